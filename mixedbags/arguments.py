@@ -1,0 +1,32 @@
+"""The errors that functions raise for their arguments before all else."""
+
+from mixedbags.errors import MomentOutOfRange, NotAReport, UnknownName
+from mixedbags.reports import is_report_index, places_of
+
+
+def check_moment(history, moment):
+    """Raise MomentOutOfRange if the history has no such moment."""
+    if moment > len(history[1]):
+        raise MomentOutOfRange(moment)
+
+
+def check_places(history, places):
+    """Raise UnknownName for the first name that is not a place of the history."""
+    known = places_of(history)
+    for name in places:
+        if name not in known:
+            raise UnknownName(name)
+
+
+def check_trusted(history, trusted):
+    """Raise NotAReport for the first position that is not the index of a report."""
+    for position in trusted:
+        if not is_report_index(history, position):
+            raise NotAReport(position)
+
+
+def check_question(history, trusted, moment, places):
+    """Raise the first error of a question that is asked with trusted reports."""
+    check_moment(history, moment)
+    check_places(history, places)
+    check_trusted(history, trusted)

@@ -1,0 +1,244 @@
+"""Values and a search of their own for the tests: nothing here uses the package.
+
+The search works on masks: bit i of a mask is the place i of the history. It tries every
+pair of states at every event.
+"""
+
+import itertools
+import random
+
+START = (("a", 1), ("b", 0), ("c", 1), ("d", 0))
+EVENTS = (
+    ("mix", "ann", ("a", "b")),
+    ("mix", "bob", ("c", "d")),
+    ("pour", "cy", ("b", "c"), 1),
+    ("pour", "cy", ("a", "d"), 1),
+)
+HISTORY = (START, EVENTS)
+EMPTY = ((("a", 0), ("b", 0)), (("mix", "ann", ("a", "b")), ("pour", "cy", ("a", "b"), 1)))
+SIXTY = 10 ** 60 - 1
+LETTERS = "abcdefg"
+PERSONS = ("ann", "bob", "cy", "dot", "eve")
+
+
+def random_history(seed, places, events, unknown=0.4):
+    """A history with this many places and events of all four kinds."""
+    chance = random.Random(seed)
+    names = LETTERS[:places]
+    start = tuple((name, None if chance.random() < unknown else chance.randint(0, 1)) for name in names)
+    return start, tuple(random_event(chance, names) for _ in range(events))
+
+
+def random_event(chance, names):
+    kind = chance.choice(("mix", "mix", "new", "look", "pour"))
+    person = chance.choice(PERSONS)
+    if kind == "mix" and len(names) >= 2:
+        return ("mix", person, random_places(chance, names, 2))
+    if kind in ("new", "mix"):
+        return ("new", chance.choice(names), chance.choice((0, 1, None)))
+    if kind == "look":
+        return ("look", person, chance.choice(names), chance.randint(0, 1))
+    places = random_places(chance, names, 1)
+    return ("pour", person, places, chance.randint(0, len(places)))
+
+
+def random_places(chance, names, fewest):
+    return tuple(sorted(chance.sample(names, chance.randint(fewest, len(names)))))
+
+
+def random_trusted(seed, history):
+    """All, some or no reports of the history."""
+    chance = random.Random(seed)
+    reports = reports_in(history)
+    share = chance.choice((0, 0.3, 0.6, 1))
+    return tuple(at for at in reports if chance.random() < share)
+
+
+def reports_in(history):
+    return tuple(at for at, event in enumerate(history[1]) if event[0] in ("look", "pour"))
+
+
+def cases(count, most_places=5, most_events=8):
+    """Histories with trusted reports, some of them contradictory."""
+    for seed in range(count):
+        chance = random.Random(seed)
+        history = random_history(seed, chance.randint(1, most_places), chance.randint(0, most_events))
+        yield history, random_trusted(seed, history)
+
+
+def names_of(history):
+    return tuple(place for place, _ in history[0])
+
+
+def mask_of(history, places):
+    names = names_of(history)
+    return sum(1 << names.index(place) for place in places)
+
+
+def state_of(history, mask):
+    return tuple(name for at, name in enumerate(names_of(history)) if mask >> at & 1)
+
+
+def states_in(history, masks):
+    return tuple(sorted(state_of(history, mask) for mask in masks))
+
+
+def ones(mask):
+    return bin(mask).count("1")
+
+
+def all_masks(history):
+    return range(1 << len(history[0]))
+
+
+def agrees_with_start(history, mask):
+    return all(mark is None or mask >> at & 1 == mark for at, (_, mark) in enumerate(history[0]))
+
+
+def fits(history, event, before, after):
+    if event[0] == "look":
+        return before == after
+    changed = mask_of(history, (event[1],) if event[0] == "new" else event[2])
+    if before & ~changed != after & ~changed:
+        return False
+    if event[0] == "new":
+        return event[2] is None or (after & changed != 0) == (event[2] == 1)
+    return ones(before & changed) == ones(after & changed)
+
+
+def agrees(history, event, before):
+    if event[0] == "look":
+        return (before & mask_of(history, (event[2],)) != 0) == (event[3] == 1)
+    return ones(before & mask_of(history, event[2])) == event[3]
+
+
+def is_step(history, trusted, at, before, after):
+    event = history[1][at]
+    return fits(history, event, before, after) and (at not in trusted or agrees(history, event, before))
+
+
+def past_masks(history, trusted):
+    """For each moment the list of the past states."""
+    layers = [[mask for mask in all_masks(history) if agrees_with_start(history, mask)]]
+    for at in range(len(history[1])):
+        after = [new for new in all_masks(history)
+                 if any(is_step(history, trusted, at, old, new) for old in layers[-1])]
+        layers.append(after)
+    return layers
+
+
+def future_masks(history, trusted):
+    """For each moment the list of the future states."""
+    layers = [list(all_masks(history))]
+    for at in reversed(range(len(history[1]))):
+        before = [old for old in all_masks(history)
+                  if any(is_step(history, trusted, at, old, new) for new in layers[0])]
+        layers.insert(0, before)
+    return layers
+
+
+def possible_masks(history, trusted):
+    """For each moment the list of the possible states."""
+    pairs = zip(past_masks(history, trusted), future_masks(history, trusted))
+    return [[mask for mask in past if mask in future] for past, future in pairs]
+
+
+def is_course(history, trusted, course):
+    """Whether the course is one that agrees with the trusted reports, by the search's own rules."""
+    if len(course) != len(history[1]) + 1 or not agrees_with_start(history, mask_of(history, course[0])):
+        return False
+    if any(state != tuple(sorted(set(state))) for state in course):
+        return False
+    masks = [mask_of(history, state) for state in course]
+    return all(is_step(history, trusted, at, masks[at], masks[at + 1]) for at in range(len(history[1])))
+
+
+def numbers_at(history, masks, places):
+    """The numbers that some places have in the states."""
+    wanted = mask_of(history, places)
+    return sorted({ones(mask & wanted) for mask in masks})
+
+
+def range_at(history, masks, places):
+    numbers = numbers_at(history, masks, places)
+    return (numbers[0], numbers[-1]) if numbers else None
+
+
+def subsets(things):
+    things = tuple(things)
+    return itertools.chain.from_iterable(itertools.combinations(things, k) for k in range(len(things) + 1))
+
+
+ODD_VALUES = (
+    None, True, False, 0, 1, 2, -1, SIXTY, -SIXTY, "", "a", "A", "z", "abcdefgh", "abcdefghi", "a b", "mix", "new",
+    "look", "pour", "range", "none", "clash", "?", (), [], ("a",), ("b", "a"), ("a", "b"), ["a", "b"], ("a", "a"),
+    (0,), (True,), ((),), ((), ()), ("a", 1), ("a", True), tuple("abcdefg"),
+)
+
+
+def changed(chance, value, count):
+    """The value with this many parts removed, added, exchanged or of another kind."""
+    for _ in range(count):
+        value = changed_once(chance, value)
+    return value
+
+
+def changed_once(chance, value):
+    if isinstance(value, (tuple, list)) and value and chance.random() < 0.85:
+        at = chance.randrange(len(value))
+        if chance.random() < 0.75:
+            return type(value)(list(value[:at]) + [changed_once(chance, value[at])] + list(value[at + 1:]))
+        return changed_row(chance, value, at)
+    if isinstance(value, int) and chance.random() < 0.5:
+        return chance.choice((value + 1, value - 1, bool(value), str(value)))
+    if isinstance(value, tuple) and chance.random() < 0.3:
+        return list(value)
+    return chance.choice(ODD_VALUES)
+
+
+def changed_row(chance, value, at):
+    parts = list(value)
+    other = chance.randrange(len(parts))
+    way = chance.randrange(5)
+    if way == 0:
+        del parts[at]
+    elif way == 1:
+        parts.insert(at, parts[other])
+    elif way == 2:
+        parts.insert(at, chance.choice(ODD_VALUES))
+    else:
+        parts[at], parts[other] = parts[other], parts[at]
+    return type(value)(parts)
+
+
+def outcome(call, *args, **named):
+    """What a call returns, or the class and the fields of the error that it raises."""
+    try:
+        return ("returns", call(*args, **named))
+    except ValueError as error:
+        return (type(error).__name__, tuple(vars(error).items()))
+
+
+def paper_error(word, at):
+    return ("InvalidPaper", (("word", word), ("at", at)))
+
+
+def same(one, other):
+    """Whether two values are equal with equal kinds of all parts."""
+    if type(one) is not type(other):
+        return False
+    if isinstance(one, (tuple, list)):
+        return len(one) == len(other) and all(same(a, b) for a, b in zip(one, other))
+    return one == other
+
+
+def random_course(seed, history, trusted):
+    """A course that agrees with the trusted reports, found by the search, or None."""
+    chance = random.Random(seed)
+    layers = possible_masks(history, trusted)
+    if not layers[0]:
+        return None
+    masks = [chance.choice(layers[0])]
+    for at in range(len(history[1])):
+        masks.append(chance.choice([new for new in layers[at + 1] if is_step(history, trusted, at, masks[-1], new)]))
+    return tuple(state_of(history, mask) for mask in masks)

@@ -1,0 +1,63 @@
+"""The names and arguments of the interface, and where they are defined."""
+
+import importlib
+import inspect
+import unittest
+
+SIGNATURES = {
+    "errors": {
+        "InvalidPaper": "(word, at)",
+        "UnknownName": "(name)",
+        "MomentOutOfRange": "(moment)",
+        "NotAReport": "(position)",
+        "InvalidEvent": "(event, reason)",
+        "NothingToUndo": "(steps)",
+        "InvalidText": "(line, field)",
+        "InvalidRow": "(row)",
+    },
+    "kinds": {
+        "is_integer": "(thing)",
+        "is_number": "(thing)",
+        "is_name": "(thing)",
+        "is_mark": "(thing)",
+        "is_places": "(thing)",
+        "is_event": "(thing)",
+        "is_history_shape": "(thing)",
+    },
+    "historychecker": {"lets_history": "(thing)"},
+    "reports": {
+        "places_of": "(history)",
+        "persons_of": "(history)",
+        "reports_of": "(history)",
+        "reports_by": "(history, persons)",
+    },
+    "stretches": {
+        "stretches_of": "(history)",
+        "stretch_at": "(history, place, moment)",
+        "allowed_marks": "(history, trusted, stretch)",
+    },
+    "coursechecker": {"lets_course": "(history, trusted, thing)"},
+    "states": {
+        "past_states": "(history, trusted, moment)",
+        "future_states": "(history, trusted, moment)",
+        "possible_states": "(history, trusted, moment)",
+    },
+    "courses": {
+        "course_through": "(history, trusted, moment, state)",
+        "any_course": "(history, trusted)",
+    },
+}
+
+
+class InterfaceTest(unittest.TestCase):
+    def test_names_arguments_and_files(self):
+        for file, names in SIGNATURES.items():
+            module = importlib.import_module(f"mixedbags.{file}")
+            for name, signature in names.items():
+                thing = getattr(module, name)
+                self.assertEqual(str(inspect.signature(thing)), signature, name)
+                self.assertEqual(thing.__module__, f"mixedbags.{file}", name)
+
+
+if __name__ == "__main__":
+    unittest.main()
