@@ -90,3 +90,183 @@ def course_reason(history, trusted, thing):
         if at in trusted and not agrees(history, event, masks[at]):
             return ("report", at)
     return None
+
+
+def slow_stretches(history):
+    """Stretches found from the moments: a place keeps its bag as long as no event moves it."""
+    last = len(history[1])
+    found = []
+    for place, _ in history[0]:
+        begin = -1
+        for at, event in enumerate(history[1]):
+            touched = {"mix": event[2], "pour": event[2], "new": event[1:2], "look": ()}[event[0]]
+            if place in touched:
+                found.append((place, begin, at))
+                begin = at
+        found.append((place, begin, last))
+    return tuple(sorted(found))
+
+
+def slow_marks(history, trusted, stretch):
+    place, begin, end = stretch
+    marks = {0, 1}
+    if begin == -1:
+        known = dict(history[0])[place]
+    else:
+        known = history[1][begin][2] if history[1][begin][0] == "new" else None
+    if known is not None:
+        marks &= {known}
+    for at in range(begin + 1, end):
+        if at in trusted and history[1][at][0] == "look" and history[1][at][2] == place:
+            marks &= {history[1][at][3]}
+    return tuple(sorted(marks))
+
+
+def slow_bound(history, trusted, moment, places, prices, is_upper):
+    """The bound by level prices, straight from the definitions, or None."""
+    best = max if is_upper else min
+    last = len(history[1])
+    total = 0
+    for stretch in slow_stretches(history):
+        place, begin, end = stretch
+        worth = 1 if place in places and begin < moment <= end else 0
+        for at, side, sign in ((end, 0, 1), (begin, 1, -1)):
+            if at not in (-1, last) and history[1][at][0] == "mix":
+                worth += sign * dict(zip(history[1][at][2], prices[at]))[place]
+            elif at not in (-1, last) and history[1][at][0] == "pour":
+                worth += sign * prices[at][side]
+        marks = slow_marks(history, trusted, stretch)
+        if not marks:
+            return None
+        total += best(mark * worth for mark in marks)
+    for at, event in enumerate(history[1]):
+        if event[0] == "pour":
+            numbers = [event[3]] if at in trusted else range(len(event[2]) + 1)
+            total += best(number * (prices[at][1] - prices[at][0]) for number in numbers)
+    return total
+
+
+def are_prices(history, thing):
+    if type(thing) is not tuple or len(thing) != len(history[1]):
+        return False
+    for event, entry in zip(history[1], thing):
+        if event[0] in ("new", "look"):
+            if entry is not None:
+                return False
+        elif not is_ints(entry) or len(entry) != (len(event[2]) if event[0] == "mix" else 2):
+            return False
+    return True
+
+
+def is_ints(thing):
+    return type(thing) is tuple and all(is_int(part) for part in thing)
+
+
+def are_level(history, prices):
+    return all(len(set(entry)) == 1 for event, entry in zip(history[1], prices) if event[0] == "mix")
+
+
+def is_range_shape(thing):
+    if type(thing) is not tuple or not thing or type(thing[0]) is not str:
+        return False
+    shapes = {
+        "range": (is_states, is_price_tuple, is_states, is_price_tuple),
+        "none": (is_price_tuple,),
+        "clash": (is_stretch,),
+    }
+    wanted = shapes.get(thing[0], ())
+    return len(wanted) > 0 and len(thing) == len(wanted) + 1 and all(f(part) for f, part in zip(wanted, thing[1:]))
+
+
+def is_states(thing):
+    return type(thing) is tuple and all(is_names(state) for state in thing)
+
+
+def is_price_tuple(thing):
+    return type(thing) is tuple and all(entry is None or is_ints(entry) for entry in thing)
+
+
+def is_stretch(thing):
+    return type(thing) is tuple and len(thing) == 3 and is_name(thing[0]) and is_ints(thing[1:])
+
+
+def range_reason(history, trusted, moment, places, thing):
+    """The word and the position with which a value is refused as a range paper, or None."""
+    if not is_range_shape(thing):
+        return ("shape", -1)
+    if thing[0] == "clash":
+        if thing[1] not in slow_stretches(history):
+            return ("stretch", -1)
+        return ("marks", -1) if slow_marks(history, trusted, thing[1]) else None
+    prices = thing[1:] if thing[0] == "none" else thing[2::2]
+    courses = () if thing[0] == "none" else thing[1::2]
+    for at, course in enumerate(courses):
+        if course_reason(history, trusted, course) is not None:
+            return ("course", at)
+    for at, part in enumerate(prices):
+        if not are_prices(history, part) or not are_level(history, part):
+            return ("prices", at)
+    if thing[0] == "none":
+        bound = slow_bound(history, trusted, 0, (), prices[0], False)
+        return ("bound", 0) if bound is None or bound <= 0 else None
+    for at, course in enumerate(courses):
+        number = len(set(course[moment]) & set(places))
+        if slow_bound(history, trusted, moment, places, prices[at], at == 1) != number:
+            return ("bound", at)
+    return None
+
+
+def is_places_word(word, fewest, known):
+    names = tuple(word.split(","))
+    return is_places(names) and len(names) >= fewest and (known is None or set(names) <= set(known))
+
+
+def is_event_word(words, at, known):
+    """Whether the word can stand there behind the words before it."""
+    word = words[at]
+    if at == 0:
+        return word in ("mix", "new", "look", "pour")
+    if words[0] == "new":
+        return [None, is_places_word(word, 1, known) and "," not in word, word in list("01?"), False][min(at, 3)]
+    if at == 1:
+        return is_name(word)
+    if at == 2:
+        if words[0] == "look":
+            return is_places_word(word, 1, known) and "," not in word
+        return is_places_word(word, 2 if words[0] == "mix" else 1, known)
+    if at == 3 and words[0] == "look":
+        return word in list("01")
+    if at == 3 and words[0] == "pour":
+        is_number = re.fullmatch("0|[1-9][0-9]{0,59}", word) is not None
+        return is_number and int(word) <= words[2].count(",") + 1
+    return False
+
+
+def wrong_field(text, known):
+    """The field with which the line of an event is refused, or None."""
+    words = text.split(" ")
+    for at in range(len(words)):
+        if not is_event_word(words, at, known):
+            return at
+    wanted = {"mix": 3, "new": 3, "look": 4, "pour": 4}[words[0]]
+    return len(words) if len(words) < wanted else None
+
+
+def wrong_line(text):
+    """The line and the field with which the text of a history is refused, or None."""
+    known = []
+    is_past_places = False
+    for line, row in enumerate(text.split("\n")):
+        words = row.split(" ")
+        if words[0] == "place" and not is_past_places:
+            tests = [True, is_name(words[1]) and words[1] > max(known, default="") if len(words) > 1 else False,
+                     words[2] in list("01?") if len(words) > 2 else False, len(words) == 3]
+            if not all(tests):
+                return line, tests.index(False)
+            known.append(words[1])
+            continue
+        field = 0 if line == 0 else wrong_field(row, known)
+        if field is not None:
+            return line, field
+        is_past_places = True
+    return None

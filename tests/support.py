@@ -17,20 +17,21 @@ EVENTS = (
 HISTORY = (START, EVENTS)
 EMPTY = ((("a", 0), ("b", 0)), (("mix", "ann", ("a", "b")), ("pour", "cy", ("a", "b"), 1)))
 SIXTY = 10 ** 60 - 1
-LETTERS = "abcdefg"
+NAMES = ("a", "ab", "b", "ba", "c", "cab", "zzzzzzzz")
+KINDS = ("mix", "mix", "new", "look", "pour")
 PERSONS = ("ann", "bob", "cy", "dot", "eve")
 
 
-def random_history(seed, places, events, unknown=0.4):
-    """A history with this many places and events of all four kinds."""
+def random_history(seed, places, events, unknown=0.4, kinds=KINDS):
+    """A history with this many places and events, in general of all four kinds."""
     chance = random.Random(seed)
-    names = LETTERS[:places]
+    names = NAMES[:places]
     start = tuple((name, None if chance.random() < unknown else chance.randint(0, 1)) for name in names)
-    return start, tuple(random_event(chance, names) for _ in range(events))
+    return start, tuple(random_event(chance, names, kinds) for _ in range(events))
 
 
-def random_event(chance, names):
-    kind = chance.choice(("mix", "mix", "new", "look", "pour"))
+def random_event(chance, names, kinds):
+    kind = chance.choice(kinds)
     person = chance.choice(PERSONS)
     if kind == "mix" and len(names) >= 2:
         return ("mix", person, random_places(chance, names, 2))
@@ -64,6 +65,13 @@ def cases(count, most_places=5, most_events=8):
         chance = random.Random(seed)
         history = random_history(seed, chance.randint(1, most_places), chance.randint(0, most_events))
         yield history, random_trusted(seed, history)
+
+
+def pouring_cases(count):
+    """Histories in which most bags are poured, with none or few of the reports trusted."""
+    for seed in range(count):
+        history = random_history(seed, 2 + seed % 3, 3 + seed % 5, kinds=("mix", "pour", "pour", "look"))
+        yield history, reports_in(history)[seed % 4::4] if seed % 2 else ()
 
 
 def names_of(history):
@@ -242,3 +250,53 @@ def random_course(seed, history, trusted):
     for at in range(len(history[1])):
         masks.append(chance.choice([new for new in layers[at + 1] if is_step(history, trusted, at, masks[-1], new)]))
     return tuple(state_of(history, mask) for mask in masks)
+
+
+def random_question(chance, history):
+    """A moment and places: none, all or some."""
+    names = names_of(history)
+    moment = chance.choice((0, len(history[1]), chance.randint(0, len(history[1]))))
+    share = chance.choice((0, 0.5, 0.5, 0.5, 1))
+    return moment, tuple(name for name in names if chance.random() < share)
+
+
+def random_level_prices(chance, history, size=2):
+    prices = []
+    for event in history[1]:
+        if event[0] == "mix":
+            prices.append((chance.randint(-size, size),) * len(event[2]))
+        elif event[0] == "pour":
+            prices.append((chance.randint(-size, size), chance.randint(-size, size)))
+        else:
+            prices.append(None)
+    return tuple(prices)
+
+
+def zero_prices(history):
+    return random_level_prices(random, history, 0)
+
+
+def question_errors(call, history):
+    """Check that a function of a question raises the errors of its arguments in their order.
+
+    call takes trusted, moment and places. Yield pairs of what it does and what it has to do.
+    """
+    last = len(history[1])
+    for moment in (last, last + 1, SIXTY):
+        for places in ((), ("a",), ("a", "h"), ("aa", "h"), ("h",)):
+            for trusted in ((), reports_in(history), (-1,), (last,), (0, last), (-2, SIXTY), (SIXTY,)):
+                expected = question_error(history, trusted, moment, places)
+                if expected is not None:
+                    yield outcome(call, trusted, moment, places), expected
+
+
+def question_error(history, trusted, moment, places):
+    if moment > len(history[1]):
+        return ("MomentOutOfRange", (("moment", moment),))
+    for name in places:
+        if name not in names_of(history):
+            return ("UnknownName", (("name", name),))
+    for position in trusted:
+        if position not in reports_in(history):
+            return ("NotAReport", (("position", position),))
+    return None

@@ -82,6 +82,15 @@ class CourseCheckerTest(unittest.TestCase):
                 else:
                     self.refuses((history[0], (event,)), (), course, "event", 0)
 
+    def test_looks_at_places_with_long_names(self):
+        history = ((("a", 1), ("ab", None), ("b", None)), (("look", "cy", "ab", 1), ("look", "cy", "ab", 0)))
+        self.assertEqual(lets_course(history, (0,), (("a", "ab"),) * 3), 3)
+        self.assertEqual(lets_course(history, (1,), (("a", "b"),) * 3), 3)
+        self.refuses(history, (0,), (("a", "b"),) * 3, "report", 0)
+        self.refuses(history, (1,), (("a", "ab"),) * 3, "report", 1)
+        self.refuses(history, (), (("a",), ("a", "b"), ("a", "b")), "event", 0)
+        self.refuses(history, (), (("a", "b"), ("a", "b"), ("a", "ab")), "event", 1)
+
     def test_reports_only_if_they_are_trusted(self):
         history = (START, (("look", "cy", "a", 0), ("pour", "cy", ("a", "c"), 1), ("look", "cy", "d", 0)))
         self.assertEqual(lets_course(history, (2,), STILL[:4]), 4)

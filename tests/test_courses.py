@@ -3,8 +3,8 @@ import unittest
 from mixedbags.coursechecker import lets_course
 from mixedbags.courses import any_course, course_through
 from tests.support import (
-    HISTORY, SIXTY, START, all_masks, cases, is_course, outcome, possible_masks, random_history, random_trusted,
-    reports_in, same, states_in,
+    HISTORY, SIXTY, START, all_masks, cases, is_course, outcome, possible_masks, pouring_cases, random_history,
+    random_trusted, reports_in, same, states_in,
 )
 
 
@@ -41,6 +41,21 @@ class CoursesTest(unittest.TestCase):
             history = random_history(seed, 1 + seed % 3, seed % 9)
             self.compare(history, ())
             self.compare(history, reports_in(history))
+
+    def test_many_pours(self):
+        for history, trusted in pouring_cases(100):
+            self.compare(history, trusted)
+            self.compare(history, reports_in(history))
+
+    def test_a_mark_that_may_go_through_one_of_two_pours(self):
+        events = (
+            ("pour", "cy", ("b",), 1), ("pour", "ann", ("a", "b"), 1), ("pour", "bob", ("a",), 0),
+            ("pour", "cy", ("b",), 1), ("pour", "bob", ("b",), 1), ("mix", "ann", ("a", "b")),
+            ("mix", "cy", ("a", "b")), ("pour", "dot", ("a",), 0),
+        )
+        history = ((("a", 1), ("b", 0)), events)
+        for trusted in ((3, 7), (7,), (2, 7), (0,), (0, 1), (2, 3, 4, 7)):
+            self.compare(history, trusted)
 
     def test_large_histories(self):
         for seed in range(40):

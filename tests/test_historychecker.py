@@ -48,6 +48,12 @@ class HistoryCheckerTest(unittest.TestCase):
             self.refuses((START, (("new", "a", 1), event, ("new", "z", 1))), "event", 1)
         self.refuses((START, (("new", "z", 1), ("new", "a", 1))), "event", 0)
 
+    def test_names_are_whole(self):
+        start = (("a", 1), ("ab", 0), ("bb", 1))
+        self.assertEqual(lets_history((start, (("look", "cy", "bb", 1), ("new", "bb", 1), ("mix", "cy", ("a", "bb"))))), 3)
+        for event in (("look", "cy", "ba", 1), ("new", "b", 1), ("look", "cy", "aa", 0), ("pour", "cy", ("a", "b"), 0)):
+            self.refuses((start, (event,)), "event", 0)
+
     def test_persons_need_not_be_places(self):
         self.assertEqual(lets_history((START, (("look", "zz", "a", 1), ("mix", "e", ("a", "b"))))), 2)
 

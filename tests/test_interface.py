@@ -46,6 +46,25 @@ SIGNATURES = {
         "course_through": "(history, trusted, moment, state)",
         "any_course": "(history, trusted)",
     },
+    "historytexts": {"event_line": "(event)", "history_text": "(history)"},
+    "historyreadings": {"event_read": "(text, *, line=0)", "history_read": "(text)"},
+    "prices": {
+        "are_prices": "(history, thing)",
+        "are_level": "(history, prices)",
+        "upper_bound": "(history, trusted, moment, places, prices)",
+        "lower_bound": "(history, trusted, moment, places, prices)",
+    },
+    "ranges": {"range_of": "(history, trusted, moment, places)"},
+    "pricing": {
+        "best_prices": "(history, trusted, moment, places, *, is_upper=True)",
+        "no_course_prices": "(history, trusted)",
+    },
+    "rangepapers": {"range_paper": "(history, trusted, moment, places)"},
+    "rangechecker": {"lets_range": "(history, trusted, moment, places, thing)"},
+    "knowledge": {
+        "group_range": "(history, persons, moment, places)",
+        "is_known": "(history, trusted, moment, places, low, high)",
+    },
 }
 
 

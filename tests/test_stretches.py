@@ -2,6 +2,7 @@ import unittest
 
 from mixedbags.errors import MomentOutOfRange, NotAReport, UnknownName
 from mixedbags.stretches import allowed_marks, stretch_at, stretches_of
+from tests.oracles import slow_marks, slow_stretches
 from tests.support import HISTORY, SIXTY, cases, outcome, random_history, random_trusted, same
 
 LOOKED = (
@@ -9,36 +10,6 @@ LOOKED = (
     (("look", "cy", "a", 0), ("look", "cy", "b", 1), ("new", "a", 0), ("look", "dot", "a", 0), ("look", "cy", "a", 1),
      ("new", "b", None), ("look", "cy", "b", 0), ("pour", "cy", ("b",), 1), ("look", "cy", "b", 1)),
 )
-
-
-def slow_stretches(history):
-    """Stretches found from the moments: a place keeps its bag as long as no event moves it."""
-    last = len(history[1])
-    found = []
-    for place, _ in history[0]:
-        begin = -1
-        for at, event in enumerate(history[1]):
-            touched = {"mix": event[2], "pour": event[2], "new": event[1:2], "look": ()}[event[0]]
-            if place in touched:
-                found.append((place, begin, at))
-                begin = at
-        found.append((place, begin, last))
-    return tuple(sorted(found))
-
-
-def slow_marks(history, trusted, stretch):
-    place, begin, end = stretch
-    marks = {0, 1}
-    if begin == -1:
-        known = dict(history[0])[place]
-    else:
-        known = history[1][begin][2] if history[1][begin][0] == "new" else None
-    if known is not None:
-        marks &= {known}
-    for at in range(begin + 1, end):
-        if at in trusted and history[1][at][0] == "look" and history[1][at][2] == place:
-            marks &= {history[1][at][3]}
-    return tuple(sorted(marks))
 
 
 class StretchesTest(unittest.TestCase):
@@ -114,6 +85,9 @@ class StretchesTest(unittest.TestCase):
         for trusted, position in (((0,), 0), ((2, 3, 4), 4), ((-1, 2), -1), ((1, 9), 1), ((2, SIXTY), SIXTY)):
             self.assertEqual(outcome(allowed_marks, HISTORY, trusted, ("a", -1, 0)),
                              ("NotAReport", (("position", position),)))
+        looked = ((("a", None),), (("look", "cy", "a", 1), ("look", "cy", "a", 1)))
+        for flag in (True, False):
+            self.assertEqual(outcome(allowed_marks, looked, (flag,), ("a", -1, 2)), ("NotAReport", (("position", flag),)))
         with self.assertRaises(MomentOutOfRange):
             stretch_at(HISTORY, "a", 5)
         with self.assertRaises(UnknownName):

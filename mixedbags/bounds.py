@@ -1,0 +1,49 @@
+"""Bounds of a question by level prices, given the marks that are left to each stretch."""
+
+from mixedbags.questions import counts_stretch
+
+
+def bound_within(history, trusted, marks, moment, places, prices, is_upper):
+    """Return the upper or the lower bound, or None if some stretch has no mark left."""
+    total = 0
+    for stretch in marks:
+        if len(marks[stretch]) == 0:
+            return None
+        worth = slope_of(history, prices, stretch)
+        if counts_stretch(stretch, moment, places):
+            worth += 1
+        total += _extreme([mark * worth for mark in marks[stretch]], is_upper)
+    for at, event in enumerate(history[1]):
+        if event[0] == "pour":
+            total += _extreme(_pour_shares(event, at in trusted, prices[at]), is_upper)
+    return total
+
+
+def _extreme(shares, is_upper):
+    if is_upper:
+        return max(shares)
+    return min(shares)
+
+
+def _pour_shares(event, is_trusted, pair):
+    rise = pair[1] - pair[0]
+    if is_trusted:
+        return [event[3] * rise]
+    return [number * rise for number in range(len(event[2]) + 1)]
+
+
+def slope_of(history, prices, stretch):
+    """Return the price of the stretch at its end minus its price at its beginning."""
+    place, begin, end = stretch
+    return _price_at(history, prices, place, end, 0) - _price_at(history, prices, place, begin, 1)
+
+
+def _price_at(history, prices, place, at, side):
+    if at == -1 or at == len(history[1]):
+        return 0
+    event = history[1][at]
+    if event[0] == "mix":
+        return prices[at][event[2].index(place)]
+    if event[0] == "pour":
+        return prices[at][side]
+    return 0
