@@ -18,9 +18,9 @@ def check_places(history, places):
             raise UnknownName(name)
 
 
-def check_trusted(history, trusted):
+def check_reports(history, positions):
     """Raise NotAReport for the first position that is not the index of a report."""
-    for position in trusted:
+    for position in positions:
         if not is_report_index(history, position):
             raise NotAReport(position)
 
@@ -29,4 +29,10 @@ def check_question(history, trusted, moment, places):
     """Raise the first error of a question that is asked with trusted reports."""
     check_moment(history, moment)
     check_places(history, places)
-    check_trusted(history, trusted)
+    check_reports(history, trusted)
+
+
+def check_candidates(history, trusted, candidates, moment, places):
+    """Raise the first error of a question that is asked with trusted reports and candidates."""
+    check_question(history, trusted, moment, places)
+    check_reports(history, candidates)

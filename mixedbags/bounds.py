@@ -1,5 +1,6 @@
 """Bounds of a question by level prices, given the marks that are left to each stretch."""
 
+from mixedbags.counting import pour_numbers
 from mixedbags.questions import counts_stretch
 
 
@@ -15,7 +16,8 @@ def bound_within(history, trusted, marks, moment, places, prices, is_upper):
         total += _extreme([mark * worth for mark in marks[stretch]], is_upper)
     for at, event in enumerate(history[1]):
         if event[0] == "pour":
-            total += _extreme(_pour_shares(event, at in trusted, prices[at]), is_upper)
+            rise = prices[at][1] - prices[at][0]
+            total += _extreme([number * rise for number in pour_numbers(event, at in trusted)], is_upper)
     return total
 
 
@@ -23,13 +25,6 @@ def _extreme(shares, is_upper):
     if is_upper:
         return max(shares)
     return min(shares)
-
-
-def _pour_shares(event, is_trusted, pair):
-    rise = pair[1] - pair[0]
-    if is_trusted:
-        return [event[3] * rise]
-    return [number * rise for number in range(len(event[2]) + 1)]
 
 
 def slope_of(history, prices, stretch):

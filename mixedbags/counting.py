@@ -1,4 +1,6 @@
-"""What a state says of its places."""
+"""What a state says of its places, and what reports say of a state."""
+
+from mixedbags.reports import places_in
 
 
 def mark_in(state, place):
@@ -20,6 +22,16 @@ def rest_of(state, places):
 
 def agrees_with_report(event, state):
     """Return whether the state before a look or a pour is as the event reports it."""
-    if event[0] == "look":
-        return mark_in(state, event[2]) == event[3]
-    return number_in(state, event[2]) == event[3]
+    return number_in(state, places_in(event)) == event[3]
+
+
+def agrees_with_reports(history, course, positions):
+    """Return whether a course agrees with all reports at these positions."""
+    return all([agrees_with_report(history[1][at], course[at]) for at in positions])
+
+
+def pour_numbers(event, is_trusted):
+    """Return the tuple of the numbers of marked bags that a pour may have."""
+    if is_trusted:
+        return (event[3],)
+    return tuple(range(len(event[2]) + 1))

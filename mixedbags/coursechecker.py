@@ -1,6 +1,6 @@
 """The checker of course papers."""
 
-from mixedbags.arguments import check_trusted
+from mixedbags.arguments import check_reports
 from mixedbags.counting import agrees_with_report, mark_in, number_in, rest_of
 from mixedbags.errors import InvalidPaper
 from mixedbags.kinds import is_names, is_places
@@ -9,7 +9,7 @@ from mixedbags.reports import places_of
 
 def lets_course(history, trusted, thing):
     """Return the number of states if any value is a course that agrees with the trusted reports."""
-    check_trusted(history, trusted)
+    check_reports(history, trusted)
     if not is_course_shape(thing):
         raise InvalidPaper("shape", -1)
     if len(thing) != len(history[1]) + 1:

@@ -11,6 +11,11 @@ def is_number(thing):
     return is_integer(thing) and thing >= 0
 
 
+def are_numbers(thing):
+    """Return whether the value is a tuple of numbers, in any order."""
+    return isinstance(thing, tuple) and all([is_number(number) for number in thing])
+
+
 def is_name(thing):
     """Return whether the value is a string of one to eight lowercase letters."""
     if not isinstance(thing, str) or not 1 <= len(thing) <= 8:

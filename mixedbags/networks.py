@@ -5,20 +5,100 @@ pour is two nodes, one before it and one after it, and an edge between them, alo
 flow as many marks as are poured. So the courses are the circulations of this network.
 """
 
+from mixedbags.counting import pour_numbers
 from mixedbags.stretches import stretches_of
 
 
-def loose_edges(history, trusted, marks):
-    """Return edges on which every flow is possible, but costs what it differs from the allowed ones."""
-    rates = {}
-    for stretch in marks:
-        rates[stretch] = (0, [_miss(mark, marks[stretch]) for mark in (0, 1)])
-    for at in _pours(history):
-        event = history[1][at]
-        rates[at] = (0, [0] * (len(event[2]) + 1))
-        if at in trusted:
-            rates[at] = (0, [abs(number - event[3]) for number in range(len(event[2]) + 1)])
-    return _edges(history, rates)
+class Network:
+    """The nodes and edges of a history.
+
+    charges has, for some stretches and for some indices of pours, a list with the cost of
+    each number of marks. marks is a dict with the marks that are left to each stretch.
+    """
+
+    def __init__(self, history):
+        self.events = history[1]
+        self.stretches = stretches_of(history)
+        self.pours = [at for at, event in enumerate(history[1]) if event[0] == "pour"]
+        self.size = 1
+        # By the index of an event and a place: where the bag comes to, and where the next one leaves from.
+        self.ends = {}
+        self.begins = {}
+        for at, event in enumerate(history[1]):
+            if event[0] == "mix":
+                self._join(at, self._new_node())
+            elif event[0] == "pour":
+                self._join(at, self._new_node())
+                self._leave(at, self._new_node())
+
+    def _new_node(self):
+        self.size += 1
+        return self.size - 1
+
+    def _join(self, at, node):
+        for place in self.events[at][2]:
+            self.ends[(at, place)] = node
+            self.begins[(at, place)] = node
+
+    def _leave(self, at, node):
+        for place in self.events[at][2]:
+            self.begins[(at, place)] = node
+
+    def loose_edges(self, trusted, marks):
+        """Return edges on which every flow is possible, but costs what it differs from the allowed ones."""
+        rates = {}
+        for stretch in self.stretches:
+            rates[stretch] = (0, [_miss(mark, marks[stretch]) for mark in (0, 1)])
+        for at in self.pours:
+            event = self.events[at]
+            rates[at] = (0, [0] * (len(event[2]) + 1))
+            if at in trusted:
+                rates[at] = (0, [abs(number - event[3]) for number in pour_numbers(event, False)])
+        return self._edges(rates)
+
+    def tight_edges(self, trusted, marks, charges):
+        """Return edges on which only allowed flows are possible, at the cost that the charges say."""
+        rates = {}
+        for stretch in self.stretches:
+            rates[stretch] = _charged(marks[stretch], charges, stretch)
+        for at in self.pours:
+            rates[at] = _charged(pour_numbers(self.events[at], at in trusted), charges, at)
+        return self._edges(rates)
+
+    def _edges(self, rates):
+        edges = []
+        for stretch in self.stretches:
+            place, begin, end = stretch
+            # News, the start and the last moment have no node of their own: bags come from the outside there.
+            edges.append((self.begins.get((begin, place), 0), self.ends.get((end, place), 0), *rates[stretch]))
+        for at in self.pours:
+            place = self.events[at][2][0]
+            edges.append((self.ends[(at, place)], self.begins[(at, place)], *rates[at]))
+        return edges
+
+    def course_from(self, flows):
+        """Return the course in which the marks flow so."""
+        states = [[] for _ in range(len(self.events) + 1)]
+        for stretch, flow in zip(self.stretches, flows):
+            place, begin, end = stretch
+            if flow == 1:
+                for moment in range(begin + 1, end + 1):
+                    states[moment].append(place)
+        return tuple([tuple(state) for state in states])
+
+    def prices_from(self, distances, sign):
+        """Return the prices that the distances of the nodes are, times 1 or -1."""
+        worths = [sign * (distances[0] - distance) for distance in distances]
+        prices = []
+        for at, event in enumerate(self.events):
+            if event[0] == "mix":
+                prices.append(tuple([worths[self.ends[(at, place)]] for place in event[2]]))
+            elif event[0] == "pour":
+                place = event[2][0]
+                prices.append((worths[self.ends[(at, place)]], worths[self.begins[(at, place)]]))
+            else:
+                prices.append(None)
+        return tuple(prices)
 
 
 def _miss(mark, marks):
@@ -27,81 +107,8 @@ def _miss(mark, marks):
     return 1
 
 
-def tight_edges(history, trusted, marks, weights):
-    """Return edges on which only allowed flows are possible. A mark costs the weight of its stretch."""
-    rates = {}
-    for stretch in marks:
-        weight = weights.get(stretch, 0)
-        rates[stretch] = (marks[stretch][0], [mark * weight for mark in marks[stretch]])
-    for at in _pours(history):
-        event = history[1][at]
-        rates[at] = (0, [0] * (len(event[2]) + 1))
-        if at in trusted:
-            rates[at] = (event[3], [0])
-    return _edges(history, rates)
-
-
-def _pours(history):
-    return [at for at, event in enumerate(history[1]) if event[0] == "pour"]
-
-
-def _edges(history, rates):
-    nodes = _nodes(history)
-    edges = []
-    for stretch in stretches_of(history):
-        low, costs = rates[stretch]
-        edges.append((nodes[stretch[1]][1], nodes[stretch[2]][0], low, costs))
-    for at in _pours(history):
-        low, costs = rates[at]
-        edges.append((nodes[at][0], nodes[at][1], low, costs))
-    return edges
-
-
-def _nodes(history):
-    """Return for each event the pair of the nodes at which bags come to it and leave it."""
-    nodes = []
-    used = 1
-    for event in history[1]:
-        if event[0] == "mix":
-            nodes.append((used, used))
-            used += 1
-        elif event[0] == "pour":
-            nodes.append((used, used + 1))
-            used += 2
-        else:
-            nodes.append((0, 0))
-    # Both the index -1 of the start and the index after the last event find this pair.
-    nodes.append((0, 0))
-    return nodes
-
-
-def size_of(history):
-    """Return the number of nodes."""
-    return 1 + max([pair[1] for pair in _nodes(history)])
-
-
-def course_from(history, flows):
-    """Return the course in which the marks flow so."""
-    states = [[] for _ in range(len(history[1]) + 1)]
-    for at, stretch in enumerate(stretches_of(history)):
-        place, begin, end = stretch
-        if flows[at] == 1:
-            for moment in range(begin + 1, end + 1):
-                states[moment].append(place)
-    return tuple([tuple(state) for state in states])
-
-
-def prices_from(history, distances, sign):
-    """Return the level prices that the distances of the nodes are, times 1 or -1."""
-    worths = [sign * (distances[0] - distance) for distance in distances]
-    nodes = _nodes(history)
-    prices = []
-    for at, event in enumerate(history[1]):
-        before, after = nodes[at]
-        if event[0] == "mix":
-            prices.append((worths[before],) * len(event[2]))
-        elif event[0] == "pour":
-            prices.append((worths[before], worths[after]))
-        else:
-            prices.append(None)
-    return tuple(prices)
+def _charged(numbers, charges, key):
+    """Return the least of the numbers, and the cost of each of them."""
+    if key not in charges:
+        return (numbers[0], [0] * len(numbers))
+    return (numbers[0], [charges[key][number] for number in numbers])

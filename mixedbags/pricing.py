@@ -1,9 +1,8 @@
 """Prices that give the best bounds, and prices that show that there is no course."""
 
-from mixedbags.arguments import check_question, check_trusted
+from mixedbags.arguments import check_question, check_reports
 from mixedbags.extremes import extreme_of
-from mixedbags.flows import loose_flows
-from mixedbags.networks import prices_from
+from mixedbags.flows import prices_against
 from mixedbags.stretches import marks_by_stretch
 
 
@@ -18,12 +17,8 @@ def best_prices(history, trusted, moment, places, *, is_upper=True):
 
 def no_course_prices(history, trusted):
     """Return any no-course prices, or None if there are none."""
-    check_trusted(history, trusted)
+    check_reports(history, trusted)
     marks = marks_by_stretch(history, trusted)
     if not all([marks[stretch] for stretch in marks]):
         return None
-    _, misses, distances = loose_flows(history, trusted, marks)
-    if misses == 0:
-        return None
-    # Whatever is allowed costs nothing as a miss, so the least misses are below the bound of these prices.
-    return prices_from(history, distances, 1)
+    return prices_against(history, trusted, marks)

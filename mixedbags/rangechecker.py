@@ -14,13 +14,10 @@ def lets_range(history, trusted, moment, places, thing):
     check_question(history, trusted, moment, places)
     if not _is_range_shape(thing):
         raise InvalidPaper("shape", -1)
-    if thing[0] == "none":
-        check_no_course_prices(history, trusted, thing[1])
-        return None
-    if thing[0] == "clash":
-        check_clash(history, trusted, thing[1])
-        return None
-    return _checked_range(history, trusted, moment, places, thing)
+    if thing[0] == "range":
+        return _checked_range(history, trusted, moment, places, thing)
+    check_no_course(history, trusted, thing)
+    return None
 
 
 def _is_range_shape(thing):
@@ -29,10 +26,10 @@ def _is_range_shape(thing):
     if thing[0] == "range" and len(thing) == 5:
         are_courses = is_course_shape(thing[1]) and is_course_shape(thing[3])
         return are_courses and is_prices_shape(thing[2]) and is_prices_shape(thing[4])
-    return is_reason_shape(thing)
+    return is_no_course_shape(thing)
 
 
-def is_reason_shape(thing):
+def is_no_course_shape(thing):
     """Return whether any value is ("none", prices) or ("clash", stretch) by its shape."""
     if not isinstance(thing, tuple) or len(thing) != 2:
         return False
@@ -41,8 +38,15 @@ def is_reason_shape(thing):
     return thing[0] == "clash" and is_stretch_shape(thing[1])
 
 
-def check_no_course_prices(history, trusted, prices):
-    """Raise InvalidPaper if the prices are not no-course prices."""
+def check_no_course(history, trusted, thing):
+    """Raise InvalidPaper if ("none", prices) or ("clash", stretch) does not show that there is no course."""
+    if thing[0] == "none":
+        _check_no_course_prices(history, trusted, thing[1])
+    else:
+        _check_clash(history, trusted, thing[1])
+
+
+def _check_no_course_prices(history, trusted, prices):
     check_level(history, prices, 0)
     bound = lower_bound(history, trusted, 0, (), prices)
     if bound is None or bound <= 0:
@@ -55,8 +59,7 @@ def check_level(history, prices, at):
         raise InvalidPaper("prices", at)
 
 
-def check_clash(history, trusted, stretch):
-    """Raise InvalidPaper if it is not a stretch of the history that has no allowed mark."""
+def _check_clash(history, trusted, stretch):
     if stretch not in stretches_of(history):
         raise InvalidPaper("stretch", -1)
     if len(allowed_marks(history, trusted, stretch)) > 0:
@@ -65,8 +68,8 @@ def check_clash(history, trusted, stretch):
 
 def _checked_range(history, trusted, moment, places, thing):
     _, low_course, low_prices, high_course, high_prices = thing
-    _check_course(history, trusted, low_course, 0)
-    _check_course(history, trusted, high_course, 1)
+    check_course(history, trusted, low_course, 0)
+    check_course(history, trusted, high_course, 1)
     check_level(history, low_prices, 0)
     check_level(history, high_prices, 1)
     low = number_of(low_course, moment, places)
@@ -78,7 +81,8 @@ def _checked_range(history, trusted, moment, places, thing):
     return (low, high)
 
 
-def _check_course(history, trusted, course, at):
+def check_course(history, trusted, course, at):
+    """Raise InvalidPaper for the course with this index if it is not one that agrees with the trusted reports."""
     try:
         lets_course(history, trusted, course)
     except InvalidPaper:

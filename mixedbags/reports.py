@@ -33,6 +33,12 @@ def reports_by(history, persons):
     return tuple([at for at in reports_of(history) if history[1][at][1] in persons])
 
 
+def joined(positions, others):
+    """Return the ascending tuple of the indices that are in one of two tuples or in both."""
+    found = {at: True for at in (*positions, *others)}
+    return tuple(sorted(found))
+
+
 def is_report(event):
     """Return whether an event is a look or a pour."""
     return event[0] == "look" or event[0] == "pour"

@@ -1,6 +1,6 @@
 """The states of a moment: past, future and possible ones."""
 
-from mixedbags.arguments import check_moment, check_trusted
+from mixedbags.arguments import check_moment, check_reports
 from mixedbags.reports import places_of
 from mixedbags.statesteps import any_states, first_states, states_after, states_before
 
@@ -8,7 +8,7 @@ from mixedbags.statesteps import any_states, first_states, states_after, states_
 def past_states(history, trusted, moment):
     """Return the ascending tuple of all past states of the moment."""
     check_moment(history, moment)
-    check_trusted(history, trusted)
+    check_reports(history, trusted)
     states = first_states(history)
     for at in range(moment):
         states = states_after(history, trusted, at, states)
@@ -18,7 +18,7 @@ def past_states(history, trusted, moment):
 def future_states(history, trusted, moment):
     """Return the ascending tuple of all future states of the moment."""
     check_moment(history, moment)
-    check_trusted(history, trusted)
+    check_reports(history, trusted)
     states = any_states(places_of(history))
     for at in reversed(range(moment, len(history[1]))):
         states = states_before(history, trusted, at, states)

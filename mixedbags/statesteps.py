@@ -1,5 +1,6 @@
 """How an event leads from the states before it to those after it, and back."""
 
+from mixedbags.choosing import choices
 from mixedbags.counting import agrees_with_report, rest_of
 
 
@@ -55,18 +56,9 @@ def _exchanged(event, states):
         groups[(rest, len(state) - len(rest))] = True
     found = []
     for rest, many in groups:
-        for chosen in _choices(event[2], many):
+        for chosen in choices(event[2], many):
             found.append(tuple(sorted(rest + chosen)))
     return found
-
-
-def _choices(places, many):
-    rows = [()]
-    for at, place in enumerate(places):
-        later = len(places) - at - 1
-        longer = [(*row, place) for row in rows if len(row) < many]
-        rows = [row for row in rows if len(row) + later >= many] + longer
-    return rows
 
 
 def _renewed(event, states):

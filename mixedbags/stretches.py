@@ -1,6 +1,6 @@
 """Stretches: the bags that stay at one place from one event to another."""
 
-from mixedbags.arguments import check_moment, check_places, check_trusted
+from mixedbags.arguments import check_moment, check_places, check_reports
 from mixedbags.reports import places_in
 
 
@@ -41,13 +41,22 @@ def stretch_at(history, place, moment):
 
 def allowed_marks(history, trusted, stretch):
     """Return the ascending tuple of the allowed marks of a stretch."""
-    check_trusted(history, trusted)
+    check_reports(history, trusted)
     return _marks_left(history, trusted, stretch)
 
 
 def marks_by_stretch(history, trusted):
     """Return a dict with the allowed marks of each stretch, in the order of the stretches."""
     return {stretch: _marks_left(history, trusted, stretch) for stretch in stretches_of(history)}
+
+
+def marks_with(history, trusted, moment, held):
+    """Return the same, if at the moment the places have the marks of the pairs (place, mark) of held."""
+    marks = marks_by_stretch(history, trusted)
+    for place, wanted in held:
+        stretch = stretch_at(history, place, moment)
+        marks[stretch] = tuple([mark for mark in marks[stretch] if mark == wanted])
+    return marks
 
 
 def _marks_left(history, trusted, stretch):

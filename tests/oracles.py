@@ -122,8 +122,15 @@ def slow_marks(history, trusted, stretch):
     return tuple(sorted(marks))
 
 
-def slow_bound(history, trusted, moment, places, prices, is_upper):
-    """The bound by level prices, straight from the definitions, or None."""
+def marks_held(history, trusted, moment, stretch, held):
+    """The allowed marks of a stretch that remain if places have these marks at the moment."""
+    place, begin, end = stretch
+    known = [mark for name, mark in held if name == place and begin < moment <= end]
+    return tuple(mark for mark in slow_marks(history, trusted, stretch) if all(mark == one for one in known))
+
+
+def slow_bound(history, trusted, moment, places, prices, is_upper, held=()):
+    """The bound by prices, straight from the definitions, or None. held: marks of places at the moment."""
     best = max if is_upper else min
     last = len(history[1])
     total = 0
@@ -135,7 +142,7 @@ def slow_bound(history, trusted, moment, places, prices, is_upper):
                 worth += sign * dict(zip(history[1][at][2], prices[at]))[place]
             elif at not in (-1, last) and history[1][at][0] == "pour":
                 worth += sign * prices[at][side]
-        marks = slow_marks(history, trusted, stretch)
+        marks = marks_held(history, trusted, moment, stretch, held)
         if not marks:
             return None
         total += best(mark * worth for mark in marks)

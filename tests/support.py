@@ -19,6 +19,19 @@ EMPTY = ((("a", 0), ("b", 0)), (("mix", "ann", ("a", "b")), ("pour", "cy", ("a",
 SIXTY = 10 ** 60 - 1
 NAMES = ("a", "ab", "b", "ba", "c", "cab", "zzzzzzzz")
 KINDS = ("mix", "mix", "new", "look", "pour")
+RING = (
+    tuple(zip("abcdef", (1, 0, 1, 0, 1, 0))),
+    (("mix", "ann", ("a", "b")), ("mix", "ann", ("c", "d")), ("mix", "bob", ("e", "f")),
+     ("pour", "cy", ("b", "c"), 1), ("pour", "cy", ("d", "e"), 1), ("pour", "dot", ("a", "f"), 1)),
+)
+CLASHING = (START, (("look", "cy", "a", 0), ("mix", "ann", ("a", "b")), ("look", "cy", "a", 0)))
+# The reports 0 and 1 contradict each other, 2 says too much for the two bags, 3 says nothing new.
+QUARREL = (
+    (("a", None), ("b", 0), ("c", None)),
+    (("look", "ann", "a", 0), ("look", "bob", "a", 1), ("pour", "cy", ("a", "b"), 2), ("pour", "cy", ("b",), 0),
+     ("mix", "dot", ("a", "c")), ("look", "eve", "c", 1)),
+)
+EIGHT = ((("a", None), ("b", 0)), (("look", "cy", "a", 1),) * 8)
 PERSONS = ("ann", "bob", "cy", "dot", "eve")
 
 
@@ -65,6 +78,36 @@ def cases(count, most_places=5, most_events=8):
         chance = random.Random(seed)
         history = random_history(seed, chance.randint(1, most_places), chance.randint(0, most_events))
         yield history, random_trusted(seed, history)
+
+
+def telling_cases(count, most_places=5, most_events=9):
+    """Histories with many reports, all, some or none of them trusted, and a question."""
+    for seed in range(count):
+        chance = random.Random(seed)
+        kinds = chance.choice((("mix", "look", "pour"), ("mix", "new", "look", "look", "pour"), KINDS))
+        history = random_history(seed, chance.randint(2, most_places), chance.randint(2, most_events), 0.6, kinds)
+        moment, places = random_question(chance, history)
+        yield history, random_trusted(seed, history), moment, places
+
+
+def gap_cases(count, most_places=5):
+    """Histories whose pairs are mixed and later poured in other pairs, so that numbers in between can be missing."""
+    for seed in range(count):
+        chance = random.Random(seed)
+        names = NAMES[:chance.choice((4, 4, most_places))]
+        events = random_pairs(chance, names, "mix", ())
+        marked = [places[chance.random() < 0.5] for _, _, places in events if chance.random() < 0.9]
+        start = tuple((name, int(name in marked)) for name in names)
+        moment = len(events)
+        events += random_pairs(chance, names, "pour", (1,))
+        history = (start, events)
+        trusted = reports_in(history) if chance.random() < 0.8 else random_trusted(seed, history)
+        yield history, trusted, moment, tuple(sorted(chance.sample(names, chance.choice((2, 2, 3)))))
+
+
+def random_pairs(chance, names, kind, rest):
+    row = chance.sample(names, len(names))
+    return tuple((kind, chance.choice(PERSONS), tuple(sorted(row[at:at + 2])), *rest) for at in range(0, len(row) - 1, 2))
 
 
 def pouring_cases(count):
@@ -170,6 +213,35 @@ def numbers_at(history, masks, places):
 def range_at(history, masks, places):
     numbers = numbers_at(history, masks, places)
     return (numbers[0], numbers[-1]) if numbers else None
+
+
+def views(history, moment, places):
+    """What the courses show: all pairs of the reports with which one agrees and the number that it has."""
+    wanted = mask_of(history, places)
+    layer = {(mask, frozenset(), None) for mask in all_masks(history) if agrees_with_start(history, mask)}
+    for at, event in enumerate(history[1] + (None,)):
+        if at == moment:
+            layer = {(mask, agreed, ones(mask & wanted)) for mask, agreed, _ in layer}
+        if event is None:
+            break
+        told = at in reports_in(history)
+        later = {mask: [new for new in all_masks(history) if fits(history, event, mask, new)]
+                 for mask in {mask for mask, _, _ in layer}}
+        layer = {(new, agreed | {at} if told and agrees(history, event, mask) else agreed, number)
+                 for mask, agreed, number in layer for new in later[mask]}
+    return {(agreed, number) for _, agreed, number in layer}
+
+
+def numbers_seen(seen, trusted):
+    """The numbers of the courses that agree with the trusted reports, from all views."""
+    return tuple(sorted({number for agreed, number in seen if agreed >= set(trusted)}))
+
+
+def minimal_forcing(seen, trusted, candidates, allowed):
+    """All minimal sets that force, by trying all subsets of the candidates."""
+    forcing = [chosen for chosen in subsets(candidates)
+               if set(numbers_seen(seen, trusted + chosen)) <= set(allowed)]
+    return tuple(sorted(chosen for chosen in forcing if not any(set(part) < set(chosen) for part in forcing)))
 
 
 def subsets(things):
@@ -288,6 +360,19 @@ def question_errors(call, history):
                 expected = question_error(history, trusted, moment, places)
                 if expected is not None:
                     yield outcome(call, trusted, moment, places), expected
+
+
+def candidate_errors(call, history):
+    """The same for a function that takes trusted, candidates, moment and places."""
+    reports, last = reports_in(history), len(history[1])
+    for moment in (last, last + 1):
+        for places in ((), ("a", "h"), ("aa", "h")):
+            for trusted in ((), reports[:1], (-1,), (0, last)):
+                for candidates in ((), reports, (last,), (*reports, SIXTY), (-2, 0)):
+                    expected = question_error(history, trusted, moment, places)
+                    expected = expected or question_error(history, candidates, moment, places)
+                    if expected is not None:
+                        yield outcome(call, trusted, candidates, moment, places), expected
 
 
 def question_error(history, trusted, moment, places):

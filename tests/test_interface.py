@@ -65,6 +65,14 @@ SIGNATURES = {
         "group_range": "(history, persons, moment, places)",
         "is_known": "(history, trusted, moment, places, low, high)",
     },
+    "reportsets": {"sufficient_sets": "(history, trusted, candidates, moment, places, low, high)"},
+    "reportsetpapers": {"report_set_paper": "(history, trusted, candidates, moment, places, low, high)"},
+    "reportsetchecker": {"lets_report_set": "(history, trusted, candidates, moment, places, low, high, thing)"},
+    "numbers": {"numbers_of": "(history, trusted, moment, places)"},
+    "nogap": {"has_no_gap_reason": "(history, trusted, moment)"},
+    "gappapers": {"number_paper": "(history, trusted, moment, places, number)"},
+    "gapchecker": {"lets_number": "(history, trusted, moment, places, number, thing)"},
+    "hindsight": {"forcing_sets": "(history, trusted, candidates, moment, places, allowed)"},
 }
 
 

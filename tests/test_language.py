@@ -94,6 +94,8 @@ class LanguageTest(unittest.TestCase):
                 self.assertIn(name, defined[module])
 
     def test_calls_and_methods(self):
+        methods = METHODS | {node.name for _, tree in self.trees() for kind in ast.walk(tree)
+                             if isinstance(kind, ast.ClassDef) for node in kind.body if isinstance(node, ast.FunctionDef)}
         for path, tree in self.trees():
             own = {node.name for node in ast.walk(tree) if isinstance(node, (ast.FunctionDef, ast.ClassDef))}
             imported = {alias.name for node in tree.body if isinstance(node, ast.ImportFrom) for alias in node.names}
@@ -102,7 +104,7 @@ class LanguageTest(unittest.TestCase):
                 if isinstance(node, ast.Call) and isinstance(node.func, ast.Name):
                     self.assertIn(node.func.id, CALLED | own | imported, place)
                 if isinstance(node, ast.Call) and isinstance(node.func, ast.Attribute):
-                    self.assertIn(node.func.attr, METHODS | own, place)
+                    self.assertIn(node.func.attr, methods, place)
                 if isinstance(node, ast.Compare) and isinstance(node.ops[0], (ast.Is, ast.IsNot)):
                     self.assertIsInstance(node.comparators[0], ast.Constant, place)
                 if isinstance(node, ast.BinOp) and isinstance(node.op, ast.Pow):

@@ -7,7 +7,7 @@ from mixedbags.rangechecker import lets_range
 from mixedbags.rangepapers import range_paper
 from tests import oracles
 from tests.support import (
-    EMPTY, HISTORY, ODD_VALUES, SIXTY, START, changed, outcome, paper_error, question_errors, random_course,
+    CLASHING, EMPTY, HISTORY, ODD_VALUES, SIXTY, START, changed, outcome, paper_error, question_errors, random_course,
     random_history, random_level_prices, random_question, random_trusted, reports_in, same, zero_prices,
 )
 
@@ -17,7 +17,6 @@ ZERO = ((0, 0), (0, 0), (0, 0), (0, 0))
 LEVEL = ((1, 1), (0, 0), (0, 0), (0, 0))
 UNEVEN = ((1, 0), (0, 0), (0, 0), (0, 0))
 PAPER = ("range", COURSE, LEVEL, COURSE, LEVEL)
-CLASHING = (START, (("look", "cy", "a", 0), ("mix", "ann", ("a", "b")), ("look", "cy", "a", 0)))
 
 
 class RangeCheckerTest(unittest.TestCase):
