@@ -25,9 +25,9 @@ def agrees_with_report(event, state):
     return number_in(state, places_in(event)) == event[3]
 
 
-def agrees_with_reports(history, course, positions):
-    """Return whether a course agrees with all reports at these positions."""
-    return all([agrees_with_report(history[1][at], course[at]) for at in positions])
+def disagreeing(history, course, positions):
+    """Return those of the positions whose reports a course does not agree with."""
+    return tuple([at for at in positions if not agrees_with_report(history[1][at], course[at])])
 
 
 def pour_numbers(event, is_trusted):

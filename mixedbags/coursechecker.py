@@ -21,6 +21,14 @@ def lets_course(history, trusted, thing):
     return len(thing)
 
 
+def check_numbered_course(history, trusted, thing, index):
+    """Raise the errors of lets_course with (index, at) as their positions."""
+    try:
+        lets_course(history, trusted, thing)
+    except InvalidPaper as error:
+        raise InvalidPaper(error.word, (index, error.at)) from None
+
+
 def is_course_shape(thing):
     """Return whether any value is a tuple of tuples of names."""
     return isinstance(thing, tuple) and all([is_names(state) for state in thing])

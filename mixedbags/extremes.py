@@ -17,4 +17,4 @@ def extreme_within(history, trusted, marks, moment, places, is_upper):
     if is_upper:
         sign = -1
     charges = {stretch: (0, sign) for stretch in marks if counts_stretch(stretch, moment, places)}
-    return lightest_course(history, trusted, marks, charges, sign)
+    return lightest_course(history, trusted, marks, charges, sign=sign)

@@ -10,19 +10,20 @@ from mixedbags.networks import Network
 
 def course_within(history, trusted, marks):
     """Return any course that agrees with the trusted reports and has these marks, or None."""
-    network = Network(history)
+    network = Network(history, ())
     flows, misses, _ = _loose_flows(network, trusted, marks)
     if misses > 0:
         return None
     return network.course_from(flows)
 
 
-def lightest_course(history, trusted, marks, charges, sign):
+def lightest_course(history, trusted, marks, charges, *, sign=1, movers=()):
     """Return a course of the least cost, and the prices, times 1 or -1, that prove it.
 
-    Return None if there is no course.
+    The cost is that of the charges, and 1 for each mark that the movers move. Return None
+    if there is no course.
     """
-    network = Network(history)
+    network = Network(history, movers)
     flows, misses, _ = _loose_flows(network, trusted, marks)
     if misses > 0:
         return None
@@ -33,7 +34,7 @@ def lightest_course(history, trusted, marks, charges, sign):
 
 def prices_against(history, trusted, marks):
     """Return no-course prices for these marks, at least one for each stretch, or None if there is a course."""
-    network = Network(history)
+    network = Network(history, ())
     _, misses, distances = _loose_flows(network, trusted, marks)
     if misses == 0:
         return None

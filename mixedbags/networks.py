@@ -3,6 +3,10 @@
 Node 0 is the outside, from which bags come and to which they go. A mix is one node. A
 pour is two nodes, one before it and one after it, and an edge between them, along which
 flow as many marks as are poured. So the courses are the circulations of this network.
+
+If it costs something to move marks, a mix is a node for each of its places and one more
+between them: a mark that stays at its place only passes its node, and a mark that moves
+goes by the node between.
 """
 
 from mixedbags.counting import pour_numbers
@@ -16,7 +20,7 @@ class Network:
     each number of marks. marks is a dict with the marks that are left to each stretch.
     """
 
-    def __init__(self, history):
+    def __init__(self, history, movers):
         self.events = history[1]
         self.stretches = stretches_of(history)
         self.pours = [at for at, event in enumerate(history[1]) if event[0] == "pour"]
@@ -24,8 +28,12 @@ class Network:
         # By the index of an event and a place: where the bag comes to, and where the next one leaves from.
         self.ends = {}
         self.begins = {}
+        # The pairs of a node of a place and the node between, for the mixes of the movers.
+        self.moves = []
         for at, event in enumerate(history[1]):
-            if event[0] == "mix":
+            if event[0] == "mix" and event[1] in movers:
+                self._spread(at)
+            elif event[0] == "mix":
                 self._join(at, self._new_node())
             elif event[0] == "pour":
                 self._join(at, self._new_node())
@@ -34,6 +42,14 @@ class Network:
     def _new_node(self):
         self.size += 1
         return self.size - 1
+
+    def _spread(self, at):
+        between = self._new_node()
+        for place in self.events[at][2]:
+            node = self._new_node()
+            self.ends[(at, place)] = node
+            self.begins[(at, place)] = node
+            self.moves.append((node, between))
 
     def _join(self, at, node):
         for place in self.events[at][2]:
@@ -54,18 +70,18 @@ class Network:
             rates[at] = (0, [0] * (len(event[2]) + 1))
             if at in trusted:
                 rates[at] = (0, [abs(number - event[3]) for number in pour_numbers(event, False)])
-        return self._edges(rates)
+        return self._edges(rates, 0)
 
     def tight_edges(self, trusted, marks, charges):
-        """Return edges on which only allowed flows are possible, at the cost that the charges say."""
+        """Return edges on which only allowed flows are possible, at the cost of the charges and 1 for each move."""
         rates = {}
         for stretch in self.stretches:
             rates[stretch] = _charged(marks[stretch], charges, stretch)
         for at in self.pours:
             rates[at] = _charged(pour_numbers(self.events[at], at in trusted), charges, at)
-        return self._edges(rates)
+        return self._edges(rates, 1)
 
-    def _edges(self, rates):
+    def _edges(self, rates, toll):
         edges = []
         for stretch in self.stretches:
             place, begin, end = stretch
@@ -74,6 +90,10 @@ class Network:
         for at in self.pours:
             place = self.events[at][2][0]
             edges.append((self.ends[(at, place)], self.begins[(at, place)], *rates[at]))
+        for node, between in self.moves:
+            # A place moves one mark at most. A free second unit keeps the distances of the nodes within the toll.
+            edges.append((node, between, 0, [0, toll, 2 * toll]))
+            edges.append((between, node, 0, [0, 0, 0]))
         return edges
 
     def course_from(self, flows):

@@ -11,10 +11,11 @@ def are_prices(history, thing):
     events = history[1]
     if not isinstance(thing, tuple) or len(thing) != len(events):
         return False
-    return all([_is_price_of(event, entry) for event, entry in zip(events, thing)])
+    return all([is_price_of(event, entry) for event, entry in zip(events, thing)])
 
 
-def _is_price_of(event, entry):
+def is_price_of(event, entry):
+    """Return whether any value is what prices have for this event."""
     if event[0] == "mix":
         return are_integers(entry) and len(entry) == len(event[2])
     if event[0] == "pour":

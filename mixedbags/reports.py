@@ -39,6 +39,11 @@ def joined(positions, others):
     return tuple(sorted(found))
 
 
+def without(positions, at):
+    """Return a tuple of positions without the one at this index."""
+    return positions[:at] + positions[at + 1:]
+
+
 def is_report(event):
     """Return whether an event is a look or a pour."""
     return event[0] == "look" or event[0] == "pour"

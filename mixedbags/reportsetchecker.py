@@ -8,8 +8,7 @@ from mixedbags.papershapes import is_prices_shape
 from mixedbags.prices import lower_bound, upper_bound
 from mixedbags.questions import number_of
 from mixedbags.rangechecker import check_course, check_level, check_no_course, is_no_course_shape
-from mixedbags.reports import joined
-from mixedbags.strays import without
+from mixedbags.reports import joined, without
 
 
 def lets_report_set(history, trusted, candidates, moment, places, low, high, thing):

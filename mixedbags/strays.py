@@ -1,9 +1,9 @@
 """Stray courses: those in which a question has a number that is not allowed."""
 
 from mixedbags.choosing import choices
-from mixedbags.counting import agrees_with_reports, number_in
+from mixedbags.counting import disagreeing, number_in
 from mixedbags.courses import course_through
-from mixedbags.reports import joined
+from mixedbags.reports import joined, without
 from mixedbags.states import possible_states
 
 
@@ -21,7 +21,7 @@ class Strays:
     def one_with(self, chosen):
         """Return any stray course that agrees with all the chosen reports as well, or None."""
         for course in self.found:
-            if agrees_with_reports(self.history, course, chosen):
+            if len(disagreeing(self.history, course, chosen)) == 0:
                 return course
         course = self._searched(joined(self.trusted, chosen))
         if course is not None:
@@ -52,8 +52,3 @@ def _has_part(chosen, sets):
 def courses_without_each(strays, chosen):
     """Return for each report of a minimal set a stray course that agrees with all the other ones."""
     return tuple([strays.one_with(without(chosen, at)) for at in range(len(chosen))])
-
-
-def without(chosen, at):
-    """Return the chosen reports without the one at this index."""
-    return chosen[:at] + chosen[at + 1:]

@@ -4,7 +4,7 @@ from tests.oracles import (
     are_level, are_prices, course_reason, is_int, is_name, is_price_tuple, is_states, is_stretch, marks_held,
     range_reason, slow_bound, slow_stretches,
 )
-from tests.support import names_of
+from tests.support import agrees, mask_of, names_of
 
 
 def is_numbers(thing):
@@ -109,3 +109,97 @@ def number_reason(history, trusted, moment, places, number, thing):
     if why is None and len(set(thing[1][moment]) & set(places)) != number:
         return ("number", -1)
     return why
+
+
+def hindsight_reason(history, trusted, candidates, moment, places, allowed, thing):
+    """The word and the position with which a value is refused as a hindsight paper, or None."""
+    if type(thing) is not tuple or len(thing) != 3 or not is_numbers(thing[0]):
+        return ("shape", -1)
+    reports, trees, courses = thing
+    if type(trees) is not tuple or not all(is_tree_shape(tree) for tree in trees) or type(courses) is not tuple:
+        return ("shape", -1)
+    if list(reports) != sorted(set(reports) & set(candidates)):
+        return ("reports", -1)
+    missing = sorted(set(range(len(places) + 1)) - set(allowed))
+    if len(trees) != len(missing):
+        return ("trees", -1)
+    for j, (number, tree) in enumerate(zip(missing, trees)):
+        why = tree_reason(history, {*trusted, *reports}, moment, places, number, tree)
+        if why is not None:
+            return (why[0], (j, why[1]))
+    if len(courses) != len(reports):
+        return ("courses", -1)
+    for i, course in enumerate(courses):
+        why = stray_reason(history, {*trusted, *reports[:i], *reports[i + 1:]}, moment, places, allowed, course, i)
+        if why is not None:
+            return why
+    return None
+
+
+def stray_reason(history, trusted, moment, places, allowed, course, index):
+    """Why a course is no course with a number that is not allowed, or None."""
+    why = course_reason(history, trusted, course)
+    if why is not None:
+        return (why[0], (index, why[1]))
+    return ("number", index) if len(set(course[moment]) & set(places)) in allowed else None
+
+
+def is_node_shape(thing):
+    if type(thing) is not tuple or len(thing) != 2 or type(thing[1]) is not tuple:
+        return False
+    return all(type(child) is tuple and len(child) == 2 and is_numbers(child[:1]) and is_node_shape(child[1])
+               for child in thing[1])
+
+
+def refuting_nodes(node, way=()):
+    """The nodes of a tree in preorder, each with the candidates above it."""
+    found = [(node, way)]
+    for candidate, child in node[1]:
+        found += refuting_nodes(child, way + (candidate,))
+    return found
+
+
+def refute_reason(history, trusted, candidates, moment, places, allowed, size, thing):
+    """The word and the position with which a value is refused as a refuting tree, or None."""
+    if not is_node_shape(thing):
+        return ("shape", -1)
+    for at, ((course, children), way) in enumerate(refuting_nodes(thing)):
+        why = stray_reason(history, {*trusted, *way}, moment, places, allowed, course, at)
+        if why is not None:
+            return why
+        wrong = [one for one in candidates
+                 if not agrees(history, history[1][one], mask_of(history, course[one]))]
+        if [child[0] for child in children] != (wrong if len(way) != size else []):
+            return ("children", at)
+    return None
+
+
+def moved_count(history, course, persons):
+    """How many marks the persons move, counted step by step."""
+    total = 0
+    for event, before, after in zip(history[1], course, course[1:]):
+        if event[0] == "mix" and event[1] in persons:
+            total += len(set(after) - set(before))
+    return total
+
+
+def moved_reason(history, trusted, persons, thing):
+    """The word and the position with which a value is refused as a moved paper, or None."""
+    if type(thing) is not tuple or len(thing) != 2 or not is_states(thing[0]) or not is_price_tuple(thing[1]):
+        return ("shape", -1)
+    course, prices = thing
+    why = course_reason(history, trusted, course)
+    if why is not None:
+        return why
+    if len(prices) != len(history[1]):
+        return ("prices", -1)
+    for at, event in enumerate(history[1]):
+        if not are_prices((history[0], (event,)), prices[at:at + 1]):
+            return ("prices", at)
+    for at, event in enumerate(history[1]):
+        if event[0] == "mix":
+            gaps = {abs(one - two) for one in prices[at] for two in prices[at]}
+            if not gaps <= ({0, 1} if event[1] in persons else {0}):
+                return ("step", at)
+    bound = slow_bound(history, trusted, 0, (), prices, False)
+    return None if bound == moved_count(history, course, persons) else ("bound", -1)

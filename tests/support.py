@@ -26,6 +26,19 @@ RING = (
 )
 CLASHING = (START, (("look", "cy", "a", 0), ("mix", "ann", ("a", "b")), ("look", "cy", "a", 0)))
 # The reports 0 and 1 contradict each other, 2 says too much for the two bags, 3 says nothing new.
+ONE = (
+    (("a", 1), ("b", 0), ("c", 0)),
+    (("mix", "ann", ("a", "b")), ("mix", "bob", ("b", "c")), ("look", "cy", "c", 1)),
+)
+TWO = (
+    (("a", 1), ("b", 0)),
+    (("mix", "ann", ("a", "b")), ("look", "cy", "a", 1), ("look", "dot", "a", 0), ("pour", "eve", ("a", "b"), 0)),
+)
+BAD = ((("a", 1),), (("look", "cy", "a", 0),))
+SEVEN = (
+    tuple((name, None) for name in "abcdefg"),
+    tuple(("look", "cy", name, 1) for name in "abcdefg") + (("look", "dot", "a", 0),),
+)
 QUARREL = (
     (("a", None), ("b", 0), ("c", None)),
     (("look", "ann", "a", 0), ("look", "bob", "a", 1), ("pour", "cy", ("a", "b"), 2), ("pour", "cy", ("b",), 0),
@@ -103,6 +116,28 @@ def gap_cases(count, most_places=5):
         history = (start, events)
         trusted = reports_in(history) if chance.random() < 0.8 else random_trusted(seed, history)
         yield history, trusted, moment, tuple(sorted(chance.sample(names, chance.choice((2, 2, 3)))))
+
+
+def moving_history(seed, most_places=5, most_events=9):
+    """A history in which marks move, with reports that are right, and with start known."""
+    chance = random.Random(seed)
+    names = NAMES[:chance.randint(2, most_places)]
+    kinds = chance.choice((("mix", "look"), ("mix", "look", "look"), ("mix", "mix", "look", "look", "look", "pour", "new")))
+    held = {name: chance.randint(0, 1) for name in names}
+    start = tuple(held.items())
+    events = []
+    for _ in range(chance.randint(2, most_events)):
+        event = random_event(chance, names, kinds)
+        if event[0] in ("mix", "pour"):
+            marks = [held[name] for name in event[2]]
+            event = event[:3] + (sum(marks),) * (event[0] == "pour")
+            held.update(zip(event[2], chance.sample(marks, len(marks))))
+        elif event[0] == "look":
+            event = event[:3] + (held[event[2]],)
+        elif event[2] is not None:
+            held[event[1]] = event[2]
+        events.append(event)
+    return start, tuple(events)
 
 
 def random_pairs(chance, names, kind, rest):

@@ -73,6 +73,21 @@ SIGNATURES = {
     "gappapers": {"number_paper": "(history, trusted, moment, places, number)"},
     "gapchecker": {"lets_number": "(history, trusted, moment, places, number, thing)"},
     "hindsight": {"forcing_sets": "(history, trusted, candidates, moment, places, allowed)"},
+    "hindsightpapers": {"hindsight_paper": "(history, trusted, candidates, moment, places, allowed)"},
+    "hindsightchecker": {"lets_hindsight": "(history, trusted, candidates, moment, places, allowed, thing)"},
+    "refutetrees": {
+        "fewest_forcing": "(history, trusted, candidates, moment, places, allowed)",
+        "refute_tree": "(history, trusted, candidates, moment, places, allowed, size)",
+    },
+    "refutechecker": {"lets_refuted": "(history, trusted, candidates, moment, places, allowed, size, thing)"},
+    "moves": {"moved_in": "(history, course, persons)", "least_moved": "(history, trusted, persons)"},
+    "movepapers": {"moved_bound": "(history, trusted, prices)", "move_paper": "(history, trusted, persons)"},
+    "movechecker": {"lets_moved": "(history, trusted, persons, thing)"},
+    "costs": {
+        "cost_of": "(history, priced, course, *, weights=())",
+        "least_cost": "(history, trusted, priced, *, weights=())",
+        "cheapest_course": "(history, trusted, priced, *, weights=())",
+    },
 }
 
 
