@@ -63,14 +63,18 @@ class NumberPapersTest(unittest.TestCase):
                 for places in (("a", "b"), names):
                     self.compare(history, trusted, moment, places)
 
-    def test_many_fixes(self):
-        # At moment 3 the marks of a, b and of c, d are exchanged in pairs only, e, f and g are free.
-        names = tuple("abcdefg")
-        start = tuple(zip(names, (1, 0, 1, 0, None, None, None)))
-        events = (("mix", "ann", ("a", "b")), ("mix", "ann", ("c", "d")), ("pour", "cy", ("b", "c"), 1),
-                  ("pour", "cy", ("a", "d"), 1))
-        self.compare((start, events), (2, 3), 2, ("a", "c"))
-        self.compare((start, events), (2, 3), 2, ("a", "c", "e", "f", "g"))
+    def test_several_fixes_on_one_way(self):
+        # At moment 2 the places a and c are equal, and so are d and f.
+        start = tuple(zip("abcdefg", (1, 0, None, 1, 0, None, None)))
+        events = (("mix", "ann", ("a", "b")), ("mix", "ann", ("d", "e")), ("pour", "cy", ("b", "c"), 1),
+                  ("pour", "cy", ("e", "f"), 1))
+        self.compare((start, events), (2, 3), 2, tuple("acdf"))
+        self.compare((start, events), (2, 3), 2, tuple("acdfg"))
+        self.assertEqual(numbers_of((start, events), (2, 3), 2, tuple("acdf")), (0, 2, 4))
+        for number in (1, 3):
+            kind, tree = number_paper((start, events), (2, 3), 2, tuple("acdf"), number)
+            self.assertEqual(kind, "gap")
+            self.assertGreaterEqual(most_fixes(tree), 2)
 
     def test_without_a_course(self):
         for number in (0, 1, 2, 3, 7, 10 ** 20, 10 ** 60 - 1):
