@@ -36,3 +36,22 @@ def check_candidates(history, trusted, candidates, moment, places):
     """Raise the first error of a question that is asked with trusted reports and candidates."""
     check_question(history, trusted, moment, places)
     check_reports(history, candidates)
+
+
+def check_priced(history, trusted, priced):
+    """Raise NotAReport for the first of the trusted, then of the priced reports that is none."""
+    check_reports(history, trusted)
+    check_reports(history, priced)
+
+
+def check_last_states(history, trusted, one, other):
+    """Raise the first error of two states at the last moment, given trusted reports."""
+    check_places(history, one)
+    check_places(history, other)
+    check_reports(history, trusted)
+
+
+def check_statement(history, trusted, places):
+    """Raise the first error of a statement about the last moment, given trusted reports."""
+    check_places(history, places)
+    check_reports(history, trusted)

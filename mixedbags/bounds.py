@@ -1,27 +1,37 @@
-"""Bounds of a question by level prices, given the marks that are left to each stretch."""
+"""Bounds by prices, given the marks that are left to each stretch."""
 
 from mixedbags.counting import pour_numbers
 from mixedbags.questions import counts_stretch
 
 
 def bound_within(history, trusted, marks, moment, places, prices, is_upper):
-    """Return the upper or the lower bound, or None if some stretch has no mark left."""
+    """Return the upper or the lower bound of a question, or None if some stretch has no mark left."""
+    counted = {stretch: (0, 1) for stretch in marks if counts_stretch(stretch, moment, places)}
+    return shares_within(history, trusted, marks, prices, counted, is_upper)
+
+
+def shares_within(history, trusted, marks, prices, charges, is_upper):
+    """Return the sum of the greatest or the least shares, or None if some stretch has no mark left.
+
+    charges has, for some stretches and for some indices of pours, what is added to the
+    share for each number of marks.
+    """
     total = 0
     for stretch in marks:
         if len(marks[stretch]) == 0:
             return None
-        worth = slope_of(history, prices, stretch)
-        if counts_stretch(stretch, moment, places):
-            worth += 1
-        total += _extreme([mark * worth for mark in marks[stretch]], is_upper)
+        total += _extreme(marks[stretch], slope_of(history, prices, stretch), charges.get(stretch), is_upper)
     for at, event in enumerate(history[1]):
         if event[0] == "pour":
             rise = prices[at][1] - prices[at][0]
-            total += _extreme([number * rise for number in pour_numbers(event, at in trusted)], is_upper)
+            total += _extreme(pour_numbers(event, at in trusted), rise, charges.get(at), is_upper)
     return total
 
 
-def _extreme(shares, is_upper):
+def _extreme(numbers, slope, charge, is_upper):
+    shares = [number * slope for number in numbers]
+    if charge is not None:
+        shares = [share + charge[number] for number, share in zip(numbers, shares)]
     if is_upper:
         return max(shares)
     return min(shares)

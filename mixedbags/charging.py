@@ -1,4 +1,7 @@
-"""What the reports that are priced cost, if they are wrong."""
+"""What the reports that are priced cost, if they are wrong.
+
+The rate of a priced report is its cost for each mark by which it is wrong.
+"""
 
 from mixedbags.counting import number_in, pour_numbers
 from mixedbags.reports import places_in
@@ -6,9 +9,25 @@ from mixedbags.stretches import stretch_at
 
 
 def rates_of(history, priced, weights):
-    """Return a dict with the cost of each priced report for each mark by which it is wrong."""
+    """Return a dict with the rate of each priced report."""
     known = dict(weights)
     return {at: known.get(history[1][at][1], 1) for at in priced}
+
+
+def factor_of(history, rates, person):
+    """Return a number that is greater than what the reports of the person cost in any course."""
+    return 1 + sum([rates[at] * len(places_in(history[1][at])) for at in rates if history[1][at][1] == person])
+
+
+def scaled_rates(history, rates, person):
+    """Return rates at which a course is a cheapest one only if it also has the smallest part of the person."""
+    factor = factor_of(history, rates, person)
+    scaled = {}
+    for at in rates:
+        scaled[at] = rates[at] * factor
+        if history[1][at][1] == person:
+            scaled[at] += rates[at]
+    return scaled
 
 
 def rated_cost(history, rates, course):

@@ -1,9 +1,8 @@
 """What wrong reports cost."""
 
-from mixedbags.arguments import check_reports
-from mixedbags.charging import charges_of, rated_cost, rates_of
-from mixedbags.flows import lightest_course
-from mixedbags.stretches import marks_by_stretch
+from mixedbags.arguments import check_priced, check_reports
+from mixedbags.charging import rated_cost, rates_of
+from mixedbags.ratedpapers import rated_paper
 
 
 def cost_of(history, priced, course, *, weights=()):
@@ -22,10 +21,8 @@ def least_cost(history, trusted, priced, *, weights=()):
 
 def cheapest_course(history, trusted, priced, *, weights=()):
     """Return any course of the least cost, or None if no course agrees with the trusted reports."""
-    check_reports(history, trusted)
-    check_reports(history, priced)
-    charges = charges_of(history, rates_of(history, priced, weights))
-    found = lightest_course(history, trusted, marks_by_stretch(history, trusted), charges)
+    check_priced(history, trusted, priced)
+    found = rated_paper(history, trusted, rates_of(history, priced, weights))
     if found is None:
         return None
     return found[0]

@@ -21,6 +21,15 @@ def lets_course(history, trusted, thing):
     return len(thing)
 
 
+def is_agreeing_course(history, trusted, thing):
+    """Return whether any value is a course that agrees with the trusted reports."""
+    try:
+        lets_course(history, trusted, thing)
+    except InvalidPaper:
+        return False
+    return True
+
+
 def check_numbered_course(history, trusted, thing, index):
     """Raise the errors of lets_course with (index, at) as their positions."""
     try:

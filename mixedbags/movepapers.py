@@ -1,7 +1,7 @@
 """Moved papers, and the bound that their prices give."""
 
 from mixedbags.arguments import check_reports
-from mixedbags.bounds import bound_within
+from mixedbags.bounds import shares_within
 from mixedbags.flows import lightest_course
 from mixedbags.stretches import marks_by_stretch
 
@@ -9,8 +9,7 @@ from mixedbags.stretches import marks_by_stretch
 def moved_bound(history, trusted, prices):
     """Return the moved bound of prices, level or not, or None if a stretch has no allowed mark."""
     check_reports(history, trusted)
-    # The shares of the stretches and pours are those of the question without places.
-    return bound_within(history, trusted, marks_by_stretch(history, trusted), 0, (), prices, False)
+    return shares_within(history, trusted, marks_by_stretch(history, trusted), prices, {}, False)
 
 
 def move_paper(history, trusted, persons):

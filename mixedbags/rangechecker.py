@@ -1,7 +1,7 @@
 """The checker of range papers."""
 
 from mixedbags.arguments import check_question
-from mixedbags.coursechecker import is_course_shape, lets_course
+from mixedbags.coursechecker import is_agreeing_course, is_course_shape
 from mixedbags.errors import InvalidPaper
 from mixedbags.papershapes import is_prices_shape, is_stretch_shape
 from mixedbags.prices import are_level, are_prices, lower_bound, upper_bound
@@ -83,7 +83,5 @@ def _checked_range(history, trusted, moment, places, thing):
 
 def check_course(history, trusted, course, at):
     """Raise InvalidPaper for the course with this index if it is not one that agrees with the trusted reports."""
-    try:
-        lets_course(history, trusted, course)
-    except InvalidPaper:
-        raise InvalidPaper("course", at) from None
+    if not is_agreeing_course(history, trusted, course):
+        raise InvalidPaper("course", at)

@@ -132,16 +132,11 @@ def marks_held(history, trusted, moment, stretch, held):
 def slow_bound(history, trusted, moment, places, prices, is_upper, held=()):
     """The bound by prices, straight from the definitions, or None. held: marks of places at the moment."""
     best = max if is_upper else min
-    last = len(history[1])
     total = 0
     for stretch in slow_stretches(history):
         place, begin, end = stretch
-        worth = 1 if place in places and begin < moment <= end else 0
-        for at, side, sign in ((end, 0, 1), (begin, 1, -1)):
-            if at not in (-1, last) and history[1][at][0] == "mix":
-                worth += sign * dict(zip(history[1][at][2], prices[at]))[place]
-            elif at not in (-1, last) and history[1][at][0] == "pour":
-                worth += sign * prices[at][side]
+        worth = slow_slope(history, prices, stretch)
+        worth += 1 if place in places and begin < moment <= end else 0
         marks = marks_held(history, trusted, moment, stretch, held)
         if not marks:
             return None
@@ -151,6 +146,18 @@ def slow_bound(history, trusted, moment, places, prices, is_upper, held=()):
             numbers = [event[3]] if at in trusted else range(len(event[2]) + 1)
             total += best(number * (prices[at][1] - prices[at][0]) for number in numbers)
     return total
+
+
+def slow_slope(history, prices, stretch):
+    """The price of a stretch at its end minus that at its beginning."""
+    place, begin, end = stretch
+    slope = 0
+    for at, side, sign in ((end, 0, 1), (begin, 1, -1)):
+        if at not in (-1, len(history[1])) and history[1][at][0] == "mix":
+            slope += sign * dict(zip(history[1][at][2], prices[at]))[place]
+        elif at not in (-1, len(history[1])) and history[1][at][0] == "pour":
+            slope += sign * prices[at][side]
+    return slope
 
 
 def are_prices(history, thing):

@@ -88,6 +88,23 @@ SIGNATURES = {
         "least_cost": "(history, trusted, priced, *, weights=())",
         "cheapest_course": "(history, trusted, priced, *, weights=())",
     },
+    "costpapers": {
+        "cost_bound": "(history, trusted, priced, prices, *, weights=())",
+        "cost_paper": "(history, trusted, priced, *, weights=())",
+    },
+    "costchecker": {"lets_cost": "(history, trusted, priced, thing, *, weights=())"},
+    "wrongs": {"wrong_reports": "(history, trusted, priced, *, weights=())"},
+    "parts": {
+        "part_of": "(history, trusted, priced, person, *, weights=())",
+        "part_factor": "(history, priced, person, *, weights=())",
+    },
+    "partpapers": {"part_paper": "(history, trusted, priced, person, *, weights=())"},
+    "partchecker": {"lets_part": "(history, trusted, priced, person, thing, *, weights=())"},
+    "laststeps": {
+        "steps_between": "(history, trusted, one, other)",
+        "best_state": "(history, trusted, values)",
+    },
+    "steppapers": {"step_paper": "(history, trusted, one, other)"},
 }
 
 
