@@ -20,7 +20,11 @@ def wrong_word(words, known):
     """
     if words[0] not in ROLES:
         return 0
-    roles = ROLES[words[0]]
+    return wrong_word_among(words, ROLES[words[0]], known)
+
+
+def wrong_word_among(words, roles, known):
+    """Return the same for a line of which the first word is right and the others have these roles."""
     for at in range(1, len(words)):
         if at == len(roles) or not _can_stand(words, at, roles[at], known):
             return at
@@ -43,7 +47,7 @@ def _can_stand(words, at, role, known):
         return is_mark_word(word)
     if role == "seen":
         return word in ("0", "1")
-    return _is_number_word(word) and int(word) <= len(places_written(words[at - 1]))
+    return is_number_word(word) and int(word) <= len(places_written(words[at - 1]))
 
 
 def _are_known(places, known):
@@ -57,7 +61,8 @@ def is_mark_word(word):
     return word in ("0", "1", "?")
 
 
-def _is_number_word(word):
+def is_number_word(word):
+    """Return whether the word writes a number with at most sixty digits."""
     if not 1 <= len(word) <= MOST_DIGITS or (len(word) > 1 and word[0] == "0"):
         return False
     return all([sign in "0123456789" for sign in word])

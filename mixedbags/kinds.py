@@ -83,9 +83,12 @@ def is_history_shape(thing):
     if not isinstance(thing, tuple) or len(thing) != 2:
         return False
     start, events = thing
-    if not isinstance(start, tuple) or not isinstance(events, tuple):
-        return False
-    return all([_is_entry(entry) for entry in start]) and all([is_event(event) for event in events])
+    return are_entries(start) and isinstance(events, tuple) and all([is_event(event) for event in events])
+
+
+def are_entries(thing):
+    """Return whether the value is a tuple of pairs of a name and a mark, in any order."""
+    return isinstance(thing, tuple) and all([_is_entry(entry) for entry in thing])
 
 
 def _is_entry(thing):

@@ -1,8 +1,7 @@
 """What wrong reports cost, written once more in another way, for the tests."""
 
-from tests.oracles import (
-    are_prices, course_reason, is_price_tuple, is_states, slow_marks, slow_slope, slow_stretches,
-)
+from tests.oracles import slow_marks, slow_slope, slow_stretches
+from tests.paper_oracles import priced_course_reason
 from tests.support import agrees_with_start, all_masks, is_step, mask_of, ones
 
 
@@ -90,17 +89,10 @@ def slow_rated_bound(history, trusted, rates, prices):
 
 def rated_reason(history, trusted, rates, thing):
     """The word and the position with which a value is refused as a cost paper at these rates, or None."""
-    if type(thing) is not tuple or len(thing) != 2 or not is_states(thing[0]) or not is_price_tuple(thing[1]):
-        return ("shape", -1)
-    course, prices = thing
-    why = course_reason(history, trusted, course)
+    why = priced_course_reason(history, trusted, thing)
     if why is not None:
         return why
-    if len(prices) != len(history[1]):
-        return ("prices", -1)
-    for at, event in enumerate(history[1]):
-        if not are_prices((history[0], (event,)), prices[at:at + 1]):
-            return ("prices", at)
+    course, prices = thing
     for at, event in enumerate(history[1]):
         if event[0] == "mix" and len(set(prices[at])) > 1:
             return ("level", at)

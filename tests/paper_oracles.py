@@ -183,8 +183,8 @@ def moved_count(history, course, persons):
     return total
 
 
-def moved_reason(history, trusted, persons, thing):
-    """The word and the position with which a value is refused as a moved paper, or None."""
+def priced_course_reason(history, trusted, thing):
+    """Why a value is no pair of a course that agrees and of prices, or None."""
     if type(thing) is not tuple or len(thing) != 2 or not is_states(thing[0]) or not is_price_tuple(thing[1]):
         return ("shape", -1)
     course, prices = thing
@@ -196,6 +196,15 @@ def moved_reason(history, trusted, persons, thing):
     for at, event in enumerate(history[1]):
         if not are_prices((history[0], (event,)), prices[at:at + 1]):
             return ("prices", at)
+    return None
+
+
+def moved_reason(history, trusted, persons, thing):
+    """The word and the position with which a value is refused as a moved paper, or None."""
+    why = priced_course_reason(history, trusted, thing)
+    if why is not None:
+        return why
+    course, prices = thing
     for at, event in enumerate(history[1]):
         if event[0] == "mix":
             gaps = {abs(one - two) for one in prices[at] for two in prices[at]}

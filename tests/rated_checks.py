@@ -5,10 +5,10 @@ import random
 
 from tests import costly, oracles
 from tests.support import (
-    ODD_VALUES, TWO, changed, outcome, paper_error, random_course, random_level_prices, same, zero_prices,
+    ODD_VALUES, TWO, outcome, paper_error, random_course, same, zero_prices,
 )
 from tests.test_costs import priced_cases
-from tests.test_movepapers import random_prices
+from tests.test_movepapers import replaced_pair
 
 STILL = (("a",), ("b",), ("b",), ("b",), ("a",))
 PRICED = (1, 2, 3)
@@ -88,7 +88,7 @@ class RatedPaperChecks:
             person = chance.choice(("ann", "bob", "cy", "dot", "eve", "zed"))
             paper = self.paper(history, trusted, priced, person, weights)
             paper = paper or (random_course(1, history, ()), zero_prices(history))
-            thing = self.replaced(chance, history, trusted, paper)
+            thing = replaced_pair(chance, history, trusted, paper)
             before = copy.deepcopy(thing)
             reason = self.reason(thing, trusted, priced, history, weights, person)
             self.assertTrue(same(thing, before))
@@ -98,24 +98,6 @@ class RatedPaperChecks:
             kind = reason and (reason[0], reason[1] == -1)
             seen[kind] = seen.get(kind, 0) + 1
         self.assertEqual({kind for kind in seen if seen[kind] > 4}, WORDS)
-
-    def replaced(self, chance, history, trusted, paper):
-        course, prices = paper
-        for _ in range(chance.choice((1, 2))):
-            way = chance.randrange(6)
-            if way == 0:
-                return changed(chance, paper, chance.choice((1, 2)))
-            if way == 1:
-                course = random_course(chance.random(), history, chance.choice(((), trusted))) or course
-            elif way == 2:
-                course = course[::-1]
-            elif way == 3:
-                prices = chance.choice((random_level_prices(chance, history), random_prices(chance, history, 1)))
-            elif way == 4:
-                prices = chance.choice((prices[1:], prices + (None,), prices[::-1]))
-            else:
-                prices = tuple(entry and tuple(price + 3 for price in entry) for entry in prices)
-        return course, prices
 
     def test_errors(self):
         for thing in (None, (STILL, self.PRICES)):

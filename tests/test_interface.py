@@ -105,6 +105,58 @@ SIGNATURES = {
         "best_state": "(history, trusted, values)",
     },
     "steppapers": {"step_paper": "(history, trusted, one, other)"},
+    "stepchecker": {"lets_steps": "(history, trusted, one, other, thing)"},
+    "settling": {
+        "is_settled": "(history, trusted, places, low, high)",
+        "fewest_looks": "(history, trusted, places, low, high)",
+    },
+    "settlepapers": {
+        "plan_paper": "(history, trusted, places, low, high)",
+        "answer_paper": "(history, trusted, places, low, high, size)",
+    },
+    "settlechecker": {
+        "lets_plan": "(history, trusted, places, low, high, thing)",
+        "lets_answers": "(history, trusted, places, low, high, size, thing)",
+    },
+    "worlds": {"World": "(start)"},
+    "replaying": {"is_log": "(thing)", "replayed": "(log)"},
+    "rowtexts": {"row_line": "(row)", "log_lines": "(log)"},
+    "rowreadings": {"read_row": "(text)", "read_log": "(lines)"},
+    "desk": {"Desk": "()"},
+}
+METHODS = {
+    ("worlds", "World"): {
+        "mix_bags": "(self, person, places)",
+        "new_bag": "(self, place, mark)",
+        "look_at": "(self, person, place, mark)",
+        "pour_out": "(self, person, places, number)",
+        "trust": "(self, person)",
+        "distrust": "(self, person)",
+        "go": "(self, row)",
+        "history_now": "(self)",
+        "persons_trusted": "(self)",
+        "trusted_now": "(self)",
+        "range_now": "(self, moment, places)",
+        "numbers_now": "(self, moment, places)",
+        "moved_now": "(self, persons)",
+        "cost_now": "(self, persons)",
+        "is_settled_now": "(self, places, low, high)",
+        "fewest_now": "(self, places, low, high)",
+        "log": "(self)",
+        "undo": "(self)",
+        "do_all": "(self, rows, *, keep=False)",
+        "counts": "(self)",
+        "__len__": "(self)",
+        "__str__": "(self)",
+        "__eq__": "(self, other)",
+        "__ne__": "(self, other)",
+    },
+    ("desk", "Desk"): {"say": "(self, row)", "counts": "(self)"},
+}
+FAMILIES = {
+    "PaperError": ("InvalidPaper",),
+    "HistoryError": ("UnknownName", "MomentOutOfRange", "NotAReport", "InvalidEvent", "NothingToUndo"),
+    "TextError": ("InvalidText", "InvalidRow"),
 }
 
 
@@ -116,6 +168,22 @@ class InterfaceTest(unittest.TestCase):
                 thing = getattr(module, name)
                 self.assertEqual(str(inspect.signature(thing)), signature, name)
                 self.assertEqual(thing.__module__, f"mixedbags.{file}", name)
+
+    def test_methods_stand_in_the_class_itself(self):
+        for (file, name), methods in METHODS.items():
+            owner = getattr(importlib.import_module(f"mixedbags.{file}"), name)
+            for method, signature in methods.items():
+                self.assertEqual(str(inspect.signature(vars(owner)[method])), signature, method)
+            public = {word for word in vars(owner) if not word.startswith("_")}
+            self.assertEqual(public, {word for word in methods if not word.startswith("_")})
+
+    def test_families_of_errors(self):
+        errors = importlib.import_module("mixedbags.errors")
+        self.assertEqual(errors.BagsError.__bases__, (ValueError,))
+        for family, names in FAMILIES.items():
+            self.assertEqual(getattr(errors, family).__bases__, (errors.BagsError,))
+            for name in names:
+                self.assertEqual(getattr(errors, name).__bases__, (getattr(errors, family),))
 
 
 if __name__ == "__main__":

@@ -111,6 +111,22 @@ class LanguageTest(unittest.TestCase):
                     self.assertIsInstance(node.right, ast.Constant, place)
                 self.assertFalse(isinstance(node, ast.Constant) and isinstance(node.value, (float, bytes)), place)
 
+    def test_finally(self):
+        for path, tree in self.trees():
+            for node in ast.walk(tree):
+                if isinstance(node, ast.Try):
+                    for step in node.finalbody:
+                        self.assertIsInstance(step, ast.AugAssign, f"{path.name}:{step.lineno}")
+                        self.assertIsInstance(step.value, ast.Constant, f"{path.name}:{step.lineno}")
+
+    def test_stars_of_calls(self):
+        for path, tree in self.trees():
+            for node in ast.walk(tree):
+                if isinstance(node, ast.Call):
+                    for part in node.args:
+                        if isinstance(part, ast.Starred):
+                            self.assertIsInstance(part.value, (ast.Name, ast.Attribute), f"{path.name}:{part.lineno}")
+
     def test_names(self):
         barred = set(BARRED) | set(dir(builtins))
         for path, tree in self.trees():

@@ -8,10 +8,10 @@ from mixedbags.movepapers import move_paper
 from mixedbags.moves import least_moved
 from tests import oracles, paper_oracles
 from tests.support import (
-    CLASHING, HISTORY, ODD_VALUES, ONE, PERSONS, SIXTY, changed, outcome, paper_error, random_course, random_level_prices,
+    CLASHING, HISTORY, ODD_VALUES, ONE, PERSONS, SIXTY, outcome, paper_error, random_course,
     reports_in, same, zero_prices,
 )
-from tests.test_movepapers import random_prices
+from tests.test_movepapers import replaced_pair
 from tests.test_moves import SWAP, moving_cases
 
 COURSE = (("a",), ("b",), ("c",), ("c",))
@@ -116,7 +116,7 @@ class MoveCheckerTest(unittest.TestCase):
         seen = {}
         for history, trusted, persons in moving_cases(5000):
             paper = move_paper(history, trusted, persons) or (random_course(1, history, ()), zero_prices(history))
-            thing = self.replaced(chance, history, trusted, paper)
+            thing = replaced_pair(chance, history, trusted, paper)
             asked = chance.choice((persons, persons, (), PERSONS))
             before = copy.deepcopy(thing)
             reason = self.reason(thing, asked, trusted, history)
@@ -128,24 +128,6 @@ class MoveCheckerTest(unittest.TestCase):
         kinds = {None, ("shape", True), ("many", True), ("state", False), ("start", True), ("event", False), ("report", False),
                  ("prices", True), ("prices", False), ("step", False), ("bound", True)}
         self.assertEqual({kind for kind in seen if seen[kind] > 4}, kinds)
-
-    def replaced(self, chance, history, trusted, paper):
-        course, prices = paper
-        for _ in range(chance.choice((1, 2))):
-            way = chance.randrange(6)
-            if way == 0:
-                return changed(chance, paper, chance.choice((1, 2)))
-            if way == 1:
-                course = random_course(chance.random(), history, chance.choice(((), trusted))) or course
-            elif way == 2:
-                course = course[::-1]
-            elif way == 3:
-                prices = chance.choice((random_level_prices(chance, history), random_prices(chance, history, 1)))
-            elif way == 4:
-                prices = chance.choice((prices[1:], prices + (None,), prices[::-1]))
-            else:
-                prices = tuple(entry and tuple(price + 3 for price in entry) for entry in prices)
-        return course, prices
 
     def test_errors(self):
         for thing in (None, (COURSE, PRICES)):

@@ -7,7 +7,7 @@ from mixedbags.moves import least_moved, moved_in
 from mixedbags.prices import lower_bound
 from tests import oracles, paper_oracles
 from tests.support import (
-    BAD, CLASHING, EMPTY, ONE, PERSONS, SIXTY, TWO, cases, outcome, random_course, random_history, random_level_prices,
+    BAD, CLASHING, EMPTY, ONE, PERSONS, SIXTY, TWO, cases, changed, outcome, random_course, random_history, random_level_prices,
     random_trusted, reports_in, same, telling_cases, zero_prices,
 )
 from tests.test_moves import SWAP, moving_cases
@@ -20,6 +20,26 @@ def random_prices(chance, history, size=2):
     return tuple(
         entry if entry is None else tuple(chance.randint(-size, size) for _ in entry)
         for entry in random_level_prices(chance, history))
+
+
+def replaced_pair(chance, history, trusted, paper):
+    """A pair of a course and prices with one part or two parts replaced."""
+    course, prices = paper
+    for _ in range(chance.choice((1, 2))):
+        way = chance.randrange(6)
+        if way == 0:
+            return changed(chance, paper, chance.choice((1, 2)))
+        if way == 1:
+            course = random_course(chance.random(), history, chance.choice(((), trusted))) or course
+        elif way == 2:
+            course = course[::-1]
+        elif way == 3:
+            prices = chance.choice((random_level_prices(chance, history), random_prices(chance, history, 1)))
+        elif way == 4:
+            prices = chance.choice((prices[1:], prices + (None,), prices[::-1]))
+        else:
+            prices = tuple(entry and tuple(price + 3 for price in entry) for entry in prices)
+    return course, prices
 
 
 class MovedBoundTest(unittest.TestCase):

@@ -6,7 +6,7 @@ from mixedbags.pricing import best_prices, no_course_prices
 from tests import oracles
 from tests.support import (
     EMPTY, HISTORY, SIXTY, cases, outcome, possible_masks, question_errors, random_history, random_question,
-    random_trusted, range_at, reports_in,
+    range_at, reports_in,
 )
 
 
