@@ -1,10 +1,7 @@
-"""Further looks at the last moment: how few of them settle a statement.
+"""Further looks at the last moment: how few of them settle a statement."""
 
-Answers are an ascending tuple of pairs of a place and the mark that was seen there.
-"""
-
-from mixedbags.counting import mark_in, number_in
-from mixedbags.reports import places_of
+from mixedbags.answers import answers_with, has_answers, places_left
+from mixedbags.counting import number_in
 from mixedbags.states import possible_states
 
 
@@ -58,19 +55,3 @@ class Looks:
         """Return a place at which the fewest looks after these answers can begin."""
         wanted = self.fewest_after(answers) - 1
         return [place for place in self.left_after(answers) if max(self.fewest_by_mark(answers, place)) == wanted][0]
-
-
-def answers_with(answers, place, mark):
-    """Return the answers together with the one of this place."""
-    return tuple(sorted((*answers, (place, mark))))
-
-
-def places_left(history, answers):
-    """Return the list of the places, in ascending order, that have no answer yet."""
-    seen = [place for place, _ in answers]
-    return [place for place in places_of(history) if place not in seen]
-
-
-def has_answers(state, answers):
-    """Return whether the state has the marks that the answers say."""
-    return all([mark_in(state, place) == mark for place, mark in answers])

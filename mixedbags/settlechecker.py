@@ -1,12 +1,12 @@
 """The checkers of plans and of answer tables."""
 
+from mixedbags.answers import answers_with, has_answers, places_left
 from mixedbags.arguments import check_statement
 from mixedbags.bounds import bound_within
 from mixedbags.counting import number_in
 from mixedbags.coursechecker import is_agreeing_course, is_course_shape
 from mixedbags.errors import InvalidPaper
 from mixedbags.kinds import is_name, is_places, is_seen_mark
-from mixedbags.looks import answers_with, has_answers, places_left
 from mixedbags.rangechecker import check_level
 from mixedbags.reports import places_of
 from mixedbags.stretches import marks_with

@@ -1,10 +1,11 @@
 """Plans that settle a statement, and answer tables that show that fewer looks do not."""
 
+from mixedbags.answers import answers_with
 from mixedbags.arguments import check_statement
 from mixedbags.courses import course_through
 from mixedbags.extremes import extreme_within
 from mixedbags.flows import prices_against
-from mixedbags.looks import Looks, answers_with
+from mixedbags.looks import Looks
 from mixedbags.questions import number_of
 from mixedbags.stretches import marks_with
 
